@@ -1,0 +1,1 @@
+"""Sentonward: redirect books, decided for all addresses."""

@@ -1,0 +1,26 @@
+"""Which values are words, lists of words, integers and indexes."""
+
+LETTERS = 8
+
+
+def is_word(value):
+    """Return whether value is a string of 1 to 8 letters from a to z."""
+    if not isinstance(value, str):
+        return False
+    # islower and isalpha alone would also take letters beyond a to z.
+    return 1 <= len(value) <= LETTERS and value.isascii() and value.isalpha() and value.islower()
+
+
+def are_words(value):
+    """Return whether value is a list or a tuple that holds nothing but words."""
+    return isinstance(value, (list, tuple)) and all([is_word(item) for item in value])
+
+
+def is_integer(value):
+    """Return whether value is an integer; True and False are none."""
+    return isinstance(value, int) and not isinstance(value, bool)
+
+
+def is_index(value, many):
+    """Return whether value is an integer from 0 to many - 1."""
+    return is_integer(value) and 0 <= value < many
