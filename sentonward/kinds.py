@@ -24,3 +24,19 @@ def is_integer(value):
 def is_index(value, many):
     """Return whether value is an integer from 0 to many - 1."""
     return is_integer(value) and 0 <= value < many
+
+
+def is_same(value, right):
+    """Return whether value equals right, where every part of it is exactly of the same kind.
+
+    right is None, a string, an integer, or a tuple of such; 1 and True are of different kinds.
+    """
+    if right is None:
+        return value is None
+    if isinstance(right, str):
+        return isinstance(value, str) and value == right
+    if is_integer(right):
+        return is_integer(value) and value == right
+    if not isinstance(value, tuple) or len(value) != len(right):
+        return False
+    return all([is_same(one, other) for one, other in zip(value, right)])
