@@ -45,6 +45,14 @@ class Trace:
         self.rank = 0
         self.asked = []
 
+    def sign(self):
+        """Return the sign that is read next, or None if all of them have been read."""
+        return self.signs[self.at] if self.at < len(self.signs) else None
+
+    def row(self):
+        """Return the state, the hand and the sign that is read next, as they are."""
+        return self.place, self.front, self.sign()
+
     def unread(self):
         """Return the signs that have not been read."""
         return self.signs[self.at:]
@@ -96,10 +104,9 @@ class Reader:
     def follow(self, trace, is_end):
         """Read on until reading ends or a row is asked that is not known; return this row or None."""
         while trace.ending == "on":
-            is_over = trace.at == len(trace.signs)
-            if is_over and not is_end:
+            sign = trace.sign()
+            if sign is None and not is_end:
                 return None
-            sign = None if is_over else trace.signs[trace.at]
             if sign is not None and len(trace.front) < HAND:
                 trace.front = (*trace.front, sign)
                 trace.at += 1
