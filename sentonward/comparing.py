@@ -25,18 +25,18 @@ def goes_on(views):
 
 def is_spent(search, beside, views):
     """Return whether views are one settled view too many beside a view that is on; if not, count them."""
-    for one, other in ((0, 1), (1, 0)):
-        if views[one][0] == "on" and views[other][0] == "settled":
-            key = (one, search.joint.plain((views[one],))[0])
-            beside[key] = beside.get(key, 0) + 1
-            return beside[key] > BESIDE
-    return False
+    if views[0][0] != "on" or views[1][0] != "settled":
+        return False
+    first = search.joint.plain((views[0],))[0]
+    beside[first] = beside.get(first, 0) + 1
+    return beside[first] > BESIDE
 
 
 def differing(search, is_wanted, is_one_sided):
     """Return the index of the first views in a search of two systems with wanted ends, or None.
 
-    Of different settled views beside the same view that is on, at most one goes with what this one
+    If it is only asked where the first system settles, then its view may never settle for long while
+    the second one has settled. Of different settled views beside it, at most one goes with what it
     settles at. So where one settled view more would lead to a difference, one of the first two does.
     """
     beside = {}
@@ -45,8 +45,8 @@ def differing(search, is_wanted, is_one_sided):
         views = search.nodes[at]
         if is_wanted(search.joint.halted(views)[0]):
             return at
-        is_vain = is_one_sided and views[0] == NEVER
-        if goes_on(views) and not is_vain and not is_spent(search, beside, views):
+        is_vain = is_one_sided and (views[0] == NEVER or is_spent(search, beside, views))
+        if goes_on(views) and not is_vain:
             search.widen(at)
         at += 1
     return None
@@ -90,26 +90,21 @@ def pairs(one, other):
     return tuple([(told_view(views[0]), told_view(views[1])) for views in search.nodes])
 
 
-def is_signs(value, named):
-    """Return whether value is a tuple of named words and integers from 1 on."""
-    if not isinstance(value, tuple):
-        return False
-    for sign in value:
-        if isinstance(sign, str):
-            if sign not in named:
-                return False
-        elif not is_integer(sign) or sign < 1:
-            return False
-    return True
+def are_signs(value):
+    """Return whether value is a tuple of strings and integers."""
+    return isinstance(value, tuple) and all([isinstance(sign, str) or is_integer(sign) for sign in value])
 
 
-def view_of(value, reader, named):
-    """Return the view that any value tells of in the form of [31], or None if it is none of a book."""
+def view_of(value, reader):
+    """Return the view that any value tells of in the form of [31], or None if it has not this form.
+
+    Its signs may be any strings and integers.
+    """
     if not isinstance(value, tuple) or len(value) == 0 or not isinstance(value[0], str):
         return None
     if value[0] == "never":
         return NEVER if len(value) == 1 else None
-    if len(value) != 3 or not is_word(value[1]) or not is_signs(value[2], named):
+    if len(value) != 3 or not is_word(value[1]) or not are_signs(value[2]):
         return None
     kind, state, signs = value
     if kind == "on" and state in reader.starts and len(signs) <= HAND:
@@ -121,7 +116,8 @@ def views_of(value, joint):
     """Return the numbered views that any value tells of as a pair of two books, or None if it is none."""
     if not isinstance(value, tuple) or len(value) != 2:
         return None
-    views = tuple([view_of(told, team[0], joint.named) for told, team in zip(value, joint.teams)])
+    views = tuple([view_of(told, team[0]) for told, team in zip(value, joint.teams)])
+    # Signs that are not numbered, or strings that are not named, would be told by other integers.
     if None in views or joint.plain(views)[0] != views:
         return None
     return views

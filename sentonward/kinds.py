@@ -29,10 +29,8 @@ def is_index(value, many):
 def is_same(value, right):
     """Return whether value equals right, where every part of it is exactly of the same kind.
 
-    right is None, a string, an integer, or a tuple of such; 1 and True are of different kinds.
+    right is a string, an integer, or a tuple of such; 1 and True are of different kinds.
     """
-    if right is None:
-        return value is None
     if isinstance(right, str):
         return isinstance(value, str) and value == right
     if is_integer(right):

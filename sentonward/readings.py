@@ -89,9 +89,7 @@ class Reader:
     def opened_row(self, row):
         """Return the trace with which the value of a row begins."""
         state, hand, sign = row
-        if sign is None:
-            return self.opened(state, hand, True)
-        return self.opened(state, (*hand, sign), False)
+        return self.opened(state, hand if sign is None else (*hand, sign), sign is None)
 
     def row_of(self, state, hand, sign):
         """Return the row of a stand and what is read next, and what its integers stand for."""

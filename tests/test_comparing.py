@@ -156,6 +156,42 @@ class ComparingTest(unittest.TestCase):
         told = parted(Book.of(again + rules[:4]), Book.of(rules[:4]))
         self.assertEqual(told, address("s:"))
 
+    def test_many_stands_beside_one(self):
+        # All begin in the state s; only the fourth of four segments may be another one.
+        back = book("t /.. to s /..", "u /.. to s /..", "v /.. to s /..", "w /.. to s /..")
+        count = book("s /1/.. to t /..", "t /1/.. to u /..", "u /1/.. to v /..", "v /a/.. to w /..", "v /1/.. to s /..")
+        same = book("t / to s /", "u / to s /", "v / to s /")
+        one, other = Chain(back, book("s /1/.. to s /..")), Chain(back, count, same)
+        self.assertEqual(len(parted(one, other)), 4)
+        self.assertEqual((parted(other, one).state, parted(other, one).path[3]), ("s", "a"))
+        self.assertEqual((len(more_in(one, other)), len(more_in(other, one))), (4, 4))
+        alike = Chain(back, count, same, book("w /1/.. to w /..", "w / to s /"))
+        self.assertEqual(end_of(alike, address("s:/b/b/b/a/b/b")), (address("s:"), 7))
+        self.assertIsNone(parted(one, alike))
+        self.assertIsNone(parted(alike, one))
+
+    def test_one_never_settles_and_the_other_settles_later(self):
+        rules = ("t /1/2/.. to v /2/..", "v /1/2/.. to w /2/..", "w /1/2/.. to z /2/..", "z /a/.. stays",
+                 "v /1/.. to v /1/..", "w /1/.. to w /1/..", "z /1/.. to z /1/..")
+        one, other = book("s /1/2/.. to s /1/2/..", *rules), book("s /1/2/.. to t /1/2/..", *rules)
+        self.assertEqual([len(parted(one, other)), len(parted(other, one)), len(more_in(other, one))], [4, 4, 4])
+        self.assertEqual((more_in(other, one).state, more_in(other, one).path[3]), ("s", "a"))
+        self.assertIsNone(more_in(one, other))
+
+    def test_a_settled_system_beside_one_that_never_settles_for_long(self):
+        # At the end of each path the first never settles, whatever has been read; so nothing is lost.
+        reading = book("s / to s /", "s /1 to s /1", "s /1/2/.. to s /2/..")
+        self.assertIsNone(more_in(reading, Book()))
+        self.assertIsNone(more_in(reading, book("s /1/.. to t /1/1/..")))
+        self.assertEqual(more_in(Book(), reading), address("s:"))
+        # The first forgets the first segment, and then tells it to be a.
+        rules = ("t /1 to t /1", "t /1/2 to t /1/2", "t /z/.. to q /a/z/..", "t /1/.. to t /1/..")
+        one = book("s / to s /", "s /1 to s /1", "s /1/2/.. to t /2/..", *rules)
+        told = more_in(one, book("s /.. to q /..", *rules))
+        self.assertEqual((told.state, len(told), told.path[1], told.path[0] == "a"), ("s", 4, "z", False))
+        told = more_in(one, book("s /1/.. to q /a/..", *rules))
+        self.assertIsNone(told)
+
     def test_endings_of_settled_and_reading_systems(self):
         # The first settles at once, the second goes through all of the path to tell the same.
         through = book("s /a/1/.. to t /a/..", "t /a/1/.. to t /a/..", "t /a to u /")
@@ -199,6 +235,8 @@ def alike_pairs():
     rng = random.Random(4)
     made = [(DROP, DROP), (DROP, DROP | Rule("s", (1,))), (Book(), book("s / stays")), (TURNING, TURNING)]
     made.append((book("s /1/1/.. to t /1/.."), book("s /2/2/.. to t /2/..", "u / stays")))
+    ring = "t /1/.. to t /1/.."
+    made.append((book("s /1/2/.. to s /1/2/..", ring), book("s /1/2/.. to t /2/..", ring)))
     for seed in range(10):
         one = drawn_book(seed, 2, 1, 4)
         made += [(one, other) for other in alike_books(one, rng)[:2]]
@@ -269,6 +307,17 @@ class PairsTest(unittest.TestCase):
             with self.subTest(wrong=wrong):
                 self.assertIs(is_pairs(one, Book(), tuple(path) + (wrong,)), False)
 
+    def test_one_book_never_settles_and_the_other_still_reads(self):
+        ring = "t /1/.. to t /1/.."
+        one, other = book("s /1/2/.. to s /1/2/..", ring), book("s /1/2/.. to t /2/..", ring)
+        told = pairs(one, other)
+        self.assertIn((("never",), ("on", "t", (1, 2))), told)
+        self.assertIn((("never",), ("never",)), told)
+        self.assertIs(is_pairs(one, other, told), True)
+        self.assertIs(is_pairs(other, one, pairs(other, one)), True)
+        less = tuple(pair for pair in told if pair != (("never",), ("never",)))
+        self.assertIs(is_pairs(one, other, less), False)
+
     def test_one_pair_otherwise(self):
         for one, other, told in alike_pairs():
             for at, (first, second) in enumerate(told):
@@ -289,6 +338,7 @@ class PairsTest(unittest.TestCase):
                 kind, state, signs = view
                 for other in (
                     (kind, state, list(signs)), (kind, state), (kind, state, signs, 0), (kind, state, signs + (99,)),
+                    (kind, state, None), (kind, state, 1), (kind, state, "ab"), (kind, state, {}), (kind, state, signs + ("q",)),
                     (kind, state + "z", signs), (kind, None, signs), (None, state, signs), ("off", state, signs),
                     (kind, state, tuple(sign + 1 if isinstance(sign, int) else sign for sign in signs) + (7,)),
                     (kind, state, tuple(True if sign == 1 else sign for sign in signs) + (1.0,)),

@@ -46,6 +46,9 @@ MOST = (
     (book("s /a/a/.. to s /a/..", "s /a to t /", "s /1/.. to s /1/.."), None),
 )
 
+# Addresses of fewer than three segments never settle, the others after one step.
+LATE = book("s / to s /", "s /1 to s /1", "s /1/2 to s /1/2", "s /1/2/.. to t /1/2/..")
+
 NO_NUMBERS = tuple(value for value in NO_WORDS if not (type(value) is int and 0 <= value <= 100)) + (
     -1, 201, 10 ** 40, (1,), [0], "1", b"1", DROP, {0: 1},
 )
@@ -98,6 +101,19 @@ class LongestTest(unittest.TestCase):
                     self.assertIn(right if right == "long" else right[1], ("long", steps + many * each))
         self.assertGreater(kinds["most"], 10)
         self.assertGreater(kinds["more"], 10)
+
+    def test_only_long_addresses_settle(self):
+        kind, steps, start = longest(LATE)
+        self.assertEqual((kind, steps, start.state, len(start)), ("most", 1, "s", 3))
+        self.assertEqual([most_steps(LATE, many) is None for many in (0, 1, 2, 3)], [False] * 4)
+        self.assertEqual([most_steps(LATE, many)[0] for many in (0, 1, 2, 3, 4, 200)], [0, 0, 0, 1, 1, 1])
+        self.assertEqual((len(beyond(LATE, 0)), beyond(LATE, 1)), (3, None))
+        dropping = book("s / to s /", "s /1 to s /1", "s /1/2 to s /1/2", "s /a/.. to s /..", "s /b/.. to t /..")
+        told = longest(dropping)
+        self.assertEqual(told[0], "more")
+        self.assert_right(dropping, told)
+        self.assertEqual([len(beyond(dropping, steps)) for steps in (0, 1, 2, 9)], [3, 4, 5, 12])
+        self.assertEqual([most_steps(dropping, many)[0] for many in (2, 3, 4, 50)], [0, 1, 2, 48])
 
     def test_systems_that_only_differ_in_what_is_never_read(self):
         # A ring whose holes change places comes back to the same words only after several rounds.
@@ -174,6 +190,12 @@ class IsLongestTest(unittest.TestCase):
         self.assertIs(is_longest(Book(), ("most", False, address("s:"))), False)
         self.assertIs(is_longest(TURNING, ("most", 0, address("s:/a/b"))), False)
         self.assertIs(is_longest(GROWING, ("more", "s", (), ("a",), (), 0, 1)), False)
+        # Each block takes a step, but no such address settles; or all do but the one without a block.
+        reading = book("s / to s /", "s /1 to s /1", "s /1/2/.. to s /2/..")
+        self.assertIs(is_longest(reading, ("more", "s", ("a", "a"), ("a",), (), 0, 1)), False)
+        reading = book("s / to s /", "s /1/.. to s /..", "s / to s /")
+        self.assertIs(is_longest(reading, ("more", "s", (), ("a",), (), 0, 1)), False)
+        self.assertIs(is_longest(LATE, ("more", "s", ("a", "a"), ("a",), (), 0, 1)), False)
         # Right for no block, one and two of them, but not for more.
         late = book("s /a/.. to t /..", "t /a/.. to u /..", "u /a/.. to v /..", "q /1/.. to q /..")
         self.assertIs(is_longest(late, ("more", "s", (), ("a",), (), 0, 1)), False)

@@ -17,8 +17,11 @@ LEVELS = book(
     "s /e/f/.. to s /f/a/f/a/..", "s /f/f/.. to s /..",
 )
 
+# A row asks one that asks another one, and then one that asks none.
+MIXED = book("s /a/1/.. to t /b/1/c/c/..", "t /b/1/.. to t /c/1/..", "t /c/1/.. to t /1/..")
+
 BOOKS = [drawn_book(seed) for seed in range(25)] + [drawn_book(seed, 4, 4, 12) for seed in range(3)] + [
-    DROP, Book(), book("s /.. stays"), book("s /1/.. to s /1/.."), book("s /1/2/.. to s /2/1/.."),
+    MIXED, DROP, Book(), book("s /.. stays"), book("s /1/.. to s /1/.."), book("s /1/2/.. to s /2/1/.."),
 ]
 
 # Those with few rows, for what is tried for each row.
@@ -62,6 +65,16 @@ class TableTest(unittest.TestCase):
             ("s", (1, 2), 2): (("on", "s", (2, 2), 1), 0), ("s", (1, 2), 3): (("on", "s", (2, 3), 1), 0),
             ("s", (1, 2), None): (("settled", "s", (), 2), 2),
         })
+
+    def test_ranks_are_greater_than_those_of_all_rows_that_are_asked(self):
+        row, first, last = ("s", ("a", 1), 2), ("t", ("b", 1), "c"), ("t", (1, "c"), "c")
+        told = table(MIXED)
+        self.assertEqual(asked(MIXED, row), [first, last])
+        self.assertEqual(told[row][0], ("settled", "t", (1, "c", "c", 2), 3))
+        self.assertGreater(told[row][1], told[first][1])
+        self.assertGreater(told[first][1], told[("t", ("c", 1), "c")][1])
+        self.assertIs(is_table(MIXED, changed(told, row, (told[row][0], told[first][1]))), False)
+        self.assertIs(is_table(MIXED, changed(told, last, (told[last][0], told[row][1]))), False)
 
     def test_tables_are_new(self):
         table(DROP).clear()
