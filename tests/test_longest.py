@@ -115,7 +115,7 @@ class LongestTest(unittest.TestCase):
         self.assertEqual([len(beyond(dropping, steps)) for steps in (0, 1, 2, 9)], [3, 4, 5, 12])
         self.assertEqual([most_steps(dropping, many)[0] for many in (2, 3, 4, 50)], [0, 1, 2, 48])
 
-    def test_systems_that_only_differ_in_what_is_never_read(self):
+    def test_rings_that_change_the_words_in_hand(self):
         # A ring whose holes change places comes back to the same words only after several rounds.
         for texts in (("s /1/2/.. to t /2/..", "t /1/2/.. to s /1/.."), ("s /1/2/.. to s /2/..", "s /1/1/.. stays"),
                       ("s /a/1/.. to t /1/..", "t /1/b/.. to s /a/..", "t /1/2/.. to s /2/..", "s /1/2/.. to t /2/..")):
@@ -190,10 +190,10 @@ class IsLongestTest(unittest.TestCase):
         self.assertIs(is_longest(Book(), ("most", False, address("s:"))), False)
         self.assertIs(is_longest(TURNING, ("most", 0, address("s:/a/b"))), False)
         self.assertIs(is_longest(GROWING, ("more", "s", (), ("a",), (), 0, 1)), False)
-        # Each block takes a step, but no such address settles; or all do but the one without a block.
+        # Each block takes a step, but no such address settles.
         reading = book("s / to s /", "s /1 to s /1", "s /1/2/.. to s /2/..")
         self.assertIs(is_longest(reading, ("more", "s", ("a", "a"), ("a",), (), 0, 1)), False)
-        reading = book("s / to s /", "s /1/.. to s /..", "s / to s /")
+        reading = book("s / to s /", "s /1/.. to s /..")
         self.assertIs(is_longest(reading, ("more", "s", (), ("a",), (), 0, 1)), False)
         self.assertIs(is_longest(LATE, ("more", "s", ("a", "a"), ("a",), (), 0, 1)), False)
         # Right for no block, one and two of them, but not for more.
