@@ -187,7 +187,7 @@ class Book:
             raise InvalidText(0)
         lines = text.split("\n") if text != "" else []
         for index, line in enumerate(lines):
-            if parsed(line) is None:
+            if parsed(line, False) is None:
                 raise InvalidText(index)
         rules = [Rule.read(line) for line in lines]
         return cls(*rules)

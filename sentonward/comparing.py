@@ -52,16 +52,22 @@ def differing(search, is_wanted, is_one_sided):
     return None
 
 
+def both_begun(one, other):
+    """Return the search of two systems, which has read nothing yet."""
+    joint = Joint(one, other)
+    return Search(joint, joint.openings)
+
+
 def parted(one, other):
     """Return a shortest address for which two systems differ, or None if they are equivalent."""
-    search = Search(Joint(one, other))
+    search = both_begun(one, other)
     at = differing(search, are_unlike, False)
     return None if at is None else search.address_of(at)
 
 
 def more_in(one, other):
     """Return a shortest address that settles in the first system but not at the same end in the second."""
-    search = Search(Joint(one, other))
+    search = both_begun(one, other)
     at = differing(search, is_lost, True)
     return None if at is None else search.address_of(at)
 
@@ -84,7 +90,7 @@ def told_view(view):
 
 def pairs(one, other):
     """Return a closed set of pairs of two books, or None if they are not equivalent."""
-    search = Search(Joint(one, other))
+    search = both_begun(one, other)
     if differing(search, are_unlike, False) is not None:
         return None
     return tuple([(told_view(views[0]), told_view(views[1])) for views in search.nodes])

@@ -23,11 +23,12 @@ def last_of(system, address):
 
 def never_settles(system):
     """Return a shortest address that never settles, or None if all addresses settle."""
-    search = Search(Joint(system))
+    joint = Joint(system)
+    search = Search(joint, joint.openings)
     at = 0
     while at < len(search.nodes):
         views = search.nodes[at]
-        if search.joint.halted(views)[0][0] == NEVER:
+        if joint.halted(views)[0][0] == NEVER:
             return search.address_of(at)
         if views[0][0] == "on":
             search.widen(at)

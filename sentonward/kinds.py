@@ -26,6 +26,14 @@ def is_index(value, many):
     return is_integer(value) and 0 <= value < many
 
 
+def number_in(text, digits):
+    """Return the integer that a text of at most so many decimal digits tells, or None if it tells none."""
+    # isdigit alone would also take digits beyond 0 to 9.
+    if not text.isascii() or not text.isdigit() or len(text) > digits or text[0] == "0" and len(text) > 1:
+        return None
+    return int(text)
+
+
 def is_same(value, right):
     """Return whether value equals right, where every part of it is exactly of the same kind.
 

@@ -8,32 +8,11 @@ from sentonward.addresses import Address
 from sentonward.ends import end_of
 from sentonward.errors import OutOfRange
 from sentonward.kinds import is_index, is_integer, is_word
-from sentonward.stands import Graph
+from sentonward.stands import Graph, ordered, settling
 from sentonward.views import fed, opening, spare_word, team_of
 
 MOST_SEGMENTS = 200
 MOST_STEPS = 100
-
-
-def ordered(graph, ways):
-    """Return a list of indexes that settle, each behind all that it leads to, without those that lead to rings."""
-    ahead = {at: 0 for at in ways}
-    before = {at: [] for at in ways}
-    for at in ways:
-        for _, _, target in graph.moves[at]:
-            if target in ways:
-                ahead[at] += 1
-                before[target].append(at)
-    queue = [at for at in ways if ahead[at] == 0]
-    done = 0
-    while done < len(queue):
-        target = queue[done]
-        done += 1
-        for at in before[target]:
-            ahead[at] -= 1
-            if ahead[at] == 0:
-                queue.append(at)
-    return queue
 
 
 def best_plan(moves, known, plan):
@@ -122,7 +101,7 @@ def more_of(system, graph, ways, left):
 def longest(system):
     """Return the tuple of a longest run, or of runs that are longer and longer."""
     graph = Graph(system)
-    ways = graph.settling()
+    ways = settling(graph)
     order = ordered(graph, ways)
     rest = {at: True for at in ways}
     for at in order:

@@ -16,7 +16,7 @@ class Graph:
 
     def __init__(self, system):
         self.joint = Joint(system)
-        self.search = Search(self.joint)
+        self.search = Search(self.joint, self.joint.openings)
         self.moves = []
         self.stops = []
         while len(self.moves) < len(self.search.nodes):
@@ -38,36 +38,58 @@ class Graph:
 
     def beginnings(self):
         """Return the list of tuples (state, index) of what is reached with nothing read."""
-        return [(state, self.search.found(self.joint.begun(state), None, state)) for state in self.joint.openings]
-
-    def settling(self):
-        """Return a dict of the indexes from which some path settles, with a way to it.
-
-        The way is the first sign and the index behind it: (None, None) at the end of the path, and
-        (sign, None) if the address settles whatever stands behind.
-        """
-        before = [[] for _ in self.moves]
-        ways = {}
-        for at, moves in enumerate(self.moves):
-            if self.stops[at] is not None:
-                ways[at] = (None, None)
-            for sign, _, target in moves:
-                if target is not None:
-                    before[target].append((sign, at))
-                elif at not in ways:
-                    ways[at] = (sign, None)
-        queue = list(ways)
-        done = 0
-        while done < len(queue):
-            target = queue[done]
-            done += 1
-            for sign, at in before[target]:
-                if at not in ways:
-                    ways[at] = (sign, target)
-                    queue.append(at)
-        return ways
+        return [(state, self.search.begun(state)) for state in self.joint.openings]
 
     def spelled(self, state, signs, many):
         """Return the address of signs that are read from a state, filled up to so many segments."""
         path = self.joint.spelled(self.joint.begun(state), signs)[0]
         return Address(state, path + (FILLING,) * (many - len(path)))
+
+
+def settling(graph):
+    """Return a dict of the indexes from which some path settles, with a way to it.
+
+    The way is the first sign and the index behind it: (None, None) at the end of the path, and
+    (sign, None) if the address settles whatever stands behind.
+    """
+    before = [[] for _ in graph.moves]
+    ways = {}
+    for at, moves in enumerate(graph.moves):
+        if graph.stops[at] is not None:
+            ways[at] = (None, None)
+        for sign, _, target in moves:
+            if target is not None:
+                before[target].append((sign, at))
+            elif at not in ways:
+                ways[at] = (sign, None)
+    queue = list(ways)
+    done = 0
+    while done < len(queue):
+        target = queue[done]
+        done += 1
+        for sign, at in before[target]:
+            if at not in ways:
+                ways[at] = (sign, target)
+                queue.append(at)
+    return ways
+
+
+def ordered(graph, ways):
+    """Return a list of indexes that settle, each behind all that it leads to, without those that lead to rings."""
+    ahead = {at: 0 for at in ways}
+    before = {at: [] for at in ways}
+    for at in ways:
+        for _, _, target in graph.moves[at]:
+            if target in ways:
+                ahead[at] += 1
+                before[target].append(at)
+    queue = [at for at in ways if ahead[at] == 0]
+    done = 0
+    while done < len(queue):
+        target = queue[done]
+        done += 1
+        for at in before[target]:
+            ahead[at] -= 1
+            if ahead[at] == 0:
+                queue.append(at)
+    return queue

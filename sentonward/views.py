@@ -119,17 +119,18 @@ class Joint:
         """Return the views at the end of the path, and the steps that this takes in all."""
         return self.all_fed(views, (), True)
 
-    def spelled(self, views, signs):
+    def spelled(self, views, signs, taken=()):
         """Return the words for signs that are read from views of words, and the views behind them.
 
-        The integers of each sign are those of the numbered views from which it is read.
+        The integers of each sign are those of the numbered views from which it is read. No word is
+        made up that is taken.
         """
         path = []
         for sign in signs:
             word = sign
             if is_integer(sign):
                 held = self.plain(views)[1]
-                word = held[sign - 1] if sign <= len(held) else spare_word(self.named, held)
+                word = held[sign - 1] if sign <= len(held) else spare_word(self.named, held, taken)
             path.append(word)
             views = self.moved(views, word)[0]
         return tuple(path), views
@@ -138,13 +139,17 @@ class Joint:
 class Search:
     """The numbered views that are found by reading, each with the sign by which it was found first."""
 
-    def __init__(self, joint):
+    def __init__(self, joint, states):
         self.joint = joint
         self.nodes = []
         self._origins = []
         self._places = {}
-        for state in joint.openings:
-            self.found(joint.begun(state), None, state)
+        for state in states:
+            self.begun(state)
+
+    def begun(self, state):
+        """Return the index of the views of a state with nothing read."""
+        return self.found(self.joint.begun(state), None, state)
 
     def found(self, views, origin, sign):
         """Return the index of views that a sign leads to from the ones with an index."""

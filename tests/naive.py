@@ -62,3 +62,21 @@ def end(books, address, most=3000, widest=400):
 def paths(words, most):
     """Return a list of all paths of up to so many segments, the shorter ones first."""
     return [path for many in range(most + 1) for path in itertools.product(words, repeat=many)]
+
+
+def first(rules, address):
+    """Return the index of the first rule, as a tuple, that fits an address, or None."""
+    for index, rule in enumerate(rules):
+        if fits(rule, address):
+            return index
+    return None
+
+
+def run(rules, address, most=60):
+    """Return the addresses of a run, up to one that occurs again, at most so many."""
+    told, seen = [], set()
+    while address is not None and address not in seen and len(told) < most:
+        told.append(address)
+        seen.add(address)
+        address = following(rules, address)
+    return told

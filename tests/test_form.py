@@ -44,12 +44,17 @@ IN_PLACE = ("__iadd__", "__ior__", "__setitem__", "__init__", "__call__", "__ite
 WORDS = (
     "type typing typing_extensions enum Enum IntEnum StrEnum Flag IntFlag Generic Protocol ABC ABCMeta namedtuple "
     "NamedTuple TypedDict TYPE_CHECKING abstractmethod register mro elements open input law version_info "
-    "with_traceback add_note chr eval exec globals locals vars getattr setattr hasattr lambda async global"
+    "with_traceback add_note chr eval exec globals locals vars getattr setattr hasattr async global"
 ).split()
 FUNCTIONS = (ast.FunctionDef, ast.AsyncFunctionDef)
 BARRED = (
     ast.AsyncFunctionDef, ast.AsyncFor, ast.AsyncWith, ast.Await, ast.Global, ast.Import, ast.Div, ast.GeneratorExp,
-    ast.Try, ast.Lambda, ast.Set, ast.AnnAssign, ast.With,
+    ast.Set, ast.AnnAssign,
+)
+# What stands in an __exit__: it assigns attributes, notes and decides, and computes nothing.
+EXITS = (
+    ast.FunctionDef, ast.arguments, ast.arg, ast.If, ast.BoolOp, ast.And, ast.Compare, ast.Is, ast.Constant, ast.Name,
+    ast.Attribute, ast.Assign, ast.Expr, ast.Call, ast.Tuple, ast.Load, ast.Store,
 )
 LOOPS = (ast.For, ast.ListComp, ast.DictComp, ast.SetComp)
 
@@ -205,6 +210,44 @@ class StatementsTest(unittest.TestCase):
                         self.assertIsInstance(node.value, ast.Constant)
                     else:
                         self.assertIsInstance(node, (ast.ImportFrom, ast.Assign, ast.ClassDef) + FUNCTIONS)
+
+    def test_errors_that_are_caught(self):
+        own = [node.name for node in TREES["errors"].body if isinstance(node, ast.ClassDef)]
+        for name, node in nodes(ast.Try):
+            with self.subTest(file=name, line=node.lineno):
+                self.assertEqual((node.finalbody, node.orelse, len(node.body)), ([], [], 1))
+                self.assertEqual([each.type.id for each in node.handlers if each.type.id not in own], [])
+
+    def test_raised_on_the_spot(self):
+        classes = [node.name for _, node in nodes(ast.ClassDef)] + ["TypeError"]
+        for name, node in nodes(ast.Raise):
+            with self.subTest(file=name, line=node.lineno):
+                self.assertIsInstance(node.exc, ast.Call)
+                self.assertIn(node.exc.func.id, classes)
+                self.assertTrue(node.cause is None or isinstance(node.cause, ast.Name))
+
+    def test_blocks(self):
+        for name, node in nodes(ast.With):
+            with self.subTest(file=name, line=node.lineno):
+                self.assertIsInstance(node.items[0].context_expr, (ast.Name, ast.Call))
+        for name, node in nodes(FUNCTIONS):
+            if node.name == "__exit__":
+                for each in ast.walk(node):
+                    with self.subTest(file=name, line=getattr(each, "lineno", 0)):
+                        self.assertIsInstance(each, EXITS)
+                        if isinstance(each, ast.Call):
+                            self.assertEqual(named(each), "append")
+
+    def test_generators(self):
+        made = [(name, node) for name, node in nodes(FUNCTIONS)
+                if any(isinstance(each, (ast.Yield, ast.YieldFrom)) for each in ast.walk(node))]
+        names = [node.name for _, node in made]
+        self.assertEqual(sorted(node.name for _, node in nodes(FUNCTIONS) if node.name in names), sorted(set(names)))
+        for name, node in made:
+            self.assertFalse(any(isinstance(each, (ast.Try, ast.With)) for each in ast.walk(node)), (name, node.name))
+        iterated = [node.iter for _, node in nodes(ast.For)]
+        for name, node in nodes(ast.Call):
+            self.assertTrue(named(node) not in names or node in iterated, (name, node.lineno))
 
     def test_is(self):
         for name, node in nodes(ast.Compare):

@@ -43,7 +43,7 @@ class ViewsTest(unittest.TestCase):
         self.assertEqual(views, (("on", 0, "s", ("a", "a")),))
 
     def test_routes(self):
-        search = Search(Joint(DROP))
+        search = Search(Joint(DROP), ["s"])
         search.widen(0)
         search.widen(1)
         self.assertEqual(search.route(0), ("s", []))
