@@ -133,10 +133,12 @@ def sources(system, goal, state, words):
     net = Net(system, goal, state, words)
     most = most_segments(net)
     rows = []
-    while most is None or len(rows) <= most:
+    many = 0
+    while most is None or many <= most:
         lengthen(net, rows)
-        for path in paths_of(net, rows, len(rows) - 1):
+        for path in paths_of(net, rows, many):
             yield Address(state, path)
+        many += 1
 
 
 def source_count(system, goal, state, words, many):

@@ -6,7 +6,6 @@ from sentonward.comparing import are_alike
 from sentonward.errors import OutOfRange
 from sentonward.kinds import is_index
 from sentonward.meetings import all_asking, first_rule
-from sentonward.readings import HAND
 from sentonward.tables import rows
 from sentonward.views import Joint, Search
 
@@ -38,7 +37,7 @@ def leading_sign(joint, reader, views, hits):
     """Return the first sign with which a row of hits is asked from views, or None."""
     _, _, state, hand = views[0]
     for sign in joint.next_signs(views):
-        if len(hand) == HAND and reader.row_of(state, hand, sign)[0] in hits:
+        if reader.row_of(state, hand, sign)[0] in hits:
             return sign
     return None
 

@@ -16,7 +16,7 @@ from sentonward.longest import is_longest, longest
 from sentonward.rules import Rule
 from sentonward.tables import value_of
 from tests import naive
-from tests.drawn import DROP, address, book, drawn_book, drawn_chain
+from tests.drawn import DROP, book, drawn_book, drawn_chain
 from tests.test_ends import GROWING, TURNING
 from tests.test_tables import LEVELS
 from tests.values import NO_WORDS, nested

@@ -56,7 +56,6 @@ EXITS = (
     ast.FunctionDef, ast.arguments, ast.arg, ast.If, ast.BoolOp, ast.And, ast.Compare, ast.Is, ast.Constant, ast.Name,
     ast.Attribute, ast.Assign, ast.Expr, ast.Call, ast.Tuple, ast.Load, ast.Store,
 )
-LOOPS = (ast.For, ast.ListComp, ast.DictComp, ast.SetComp)
 
 
 def nodes(kinds=ast.AST):

@@ -127,6 +127,19 @@ class SourcesTest(unittest.TestCase):
                     right = 1 if many == len(path) else 0
                     self.assertEqual(source_count(system, goal, "q", ["a", "b"], many), right)
 
+    def test_goals_with_segments_that_are_not_among_the_words(self):
+        one = book("s /a/.. to t /..")
+        for system, state, text, words, many in (
+            (Book(), "q", "q:/b", "a", 0), (Book(), "q", "q:/b/a", "a", 0), (Book(), "q", "q:/a/b", "a", 0), (Book(), "q", "q:/a/b", "ba", 1),
+            (one, "s", "t:/x/y/z", "axy", 0), (one, "s", "t:/x/y/z", "ayz", 0), (one, "s", "t:/x/y/z", "xyz", 0), (one, "s", "t:/x/y/z", "axyz", 1),
+            (one, "s", "t:/x/y/z/w", "axyw", 0), (one, "s", "t:/x/y/z/w", "wzyxa", 1), (one, "s", "t:/x/y/z/w", "axzw", 0),
+        ):
+            with self.subTest(text=text, words=words):
+                told = list(sources(system, address(text), state, list(words)))
+                self.assertEqual(len(told), many)
+                count = sum(source_count(system, address(text), state, list(words), size) for size in range(8))
+                self.assertEqual(count, many)
+
     def test_words_that_are_not_named(self):
         for system in SYSTEMS[:30]:
             for goal in (address("s:/x"), address("t:/x/y"), address("s:/a/x")):
@@ -310,7 +323,8 @@ class SomeSourceTest(unittest.TestCase):
                 else:
                     self.assertEqual(end_of(system, one)[0], address(text))
         for system, text in ((TURNING, "s:/a/b"), (BEGUN, "s:/a"), (PAST, "s:/q"), (DROP, "t:"), (DROP, "s:/q/r"),
-                             (book("s /1/1/.. stays", "s /1/2/.. to t /1/.."), "s:/x/y"), (GROWING, "s:/x")):
+                             (book("s /1/1/.. stays", "s /1/2/.. to t /1/.."), "s:/x/y"), (GROWING, "s:/x"),
+                             (book("s /1/1/.. stays", "s /1/2/.. to t /1/2/.."), "t:/x/x/y")):
             self.assertIsNone(some_source(system, address(text), "s"))
 
     def test_segments_that_no_rule_names(self):

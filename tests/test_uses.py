@@ -11,7 +11,7 @@ from sentonward.errors import OutOfRange
 from sentonward.rules import Rule
 from sentonward.uses import dead, exchangeable, met, needless, passed
 from tests import naive
-from tests.drawn import DROP, OTHERS, address, book, changed_books, drawn_book
+from tests.drawn import DROP, OTHERS, address, book, drawn_book
 from tests.test_books import NO_INDEXES
 from tests.test_ends import GROWING, TURNING
 from tests.test_tables import LEVELS
