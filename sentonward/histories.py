@@ -1,15 +1,17 @@
 """What a site remembers: its book, what can be undone and redone, the active blocks, and a log."""
 
+from sentonward.books import Book
+
 
 class History:
-    """The books of a site: the current one, those before it, and those that can be redone.
+    """The current book of a site, and the tuples of the rules of those before it and of those to redo.
 
-    Books that stand here are never changed; an edit puts a new one in their place.
+    The current book is never changed; an edit puts a new one in its place.
     """
 
     def __init__(self, book):
         self.held = book
-        # The oldest one stands first in past, the next one first in future.
+        # The oldest book stands first in past, the next one first in future.
         self.past = ()
         self.future = ()
         self.level = 0
@@ -22,27 +24,27 @@ class History:
     def change(self, book):
         """Put a book in the place of the current one, as an edit."""
         if self.level == 0:
-            self.past = (*self.past, self.held)
+            self.past = (*self.past, self.held.rules)
             self.future = ()
         self.held = book
         self.note("edit", len(book))
 
     def go_back(self, count):
         """Undo so many edits."""
-        line = (*self.past, self.held, *self.future)
-        self.stand(line, len(self.past) - count)
+        self.stand(len(self.past) - count)
         self.note("undo", count)
 
     def go_forth(self, count):
         """Redo so many edits."""
-        line = (*self.past, self.held, *self.future)
-        self.stand(line, len(self.past) + count)
+        self.stand(len(self.past) + count)
         self.note("redo", count)
 
-    def stand(self, line, at):
-        """Take the place with an index in a line of books."""
+    def stand(self, at):
+        """Take the place with an index among all books, from the oldest one to the last one to redo."""
+        line = (*self.past, self.held.rules, *self.future)
+        rules = line[at]
         self.past = line[:at]
-        self.held = line[at]
+        self.held = Book(*rules)
         self.future = line[at + 1:]
 
 
@@ -60,13 +62,14 @@ class Trial:
         self._is_kept = True
 
     def __enter__(self):
+        # No edit in a block touches past and future, so what a kept one leaves there is known now.
         history = self._history
         self._before = history.held
         self._level = history.level
         self._past = history.past
         self._future = history.future
         if self._level == 0:
-            self._past = (*history.past, history.held)
+            self._past = (*history.past, history.held.rules)
             self._future = ()
         history.level = self._level + 1
         return self._site

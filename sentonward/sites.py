@@ -164,9 +164,9 @@ class Site:
 
     def editions(self):
         """Yield copies of the books that undo leads back to, the oldest first, and of the current one."""
-        books = [*self._history.past, self._history.held]
-        for book in books:
-            yield book.copied()
+        every = [*self._history.past, self._history.held.rules]
+        for rules in every:
+            yield Book(*rules)
 
     def trial(self):
         """Return an object for one block, whose edits are taken back at its end unless it is kept."""
