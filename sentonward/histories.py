@@ -55,11 +55,12 @@ class Trial:
         self._site = site
         self._history = history
         self._log = history.entries
-        self._is_kept = False
+        # The end of the block only asks whether it is None.
+        self._kept = None
 
     def keep(self):
         """Let the edits of the block stand, unless an exception leaves it."""
-        self._is_kept = True
+        self._kept = True
 
     def __enter__(self):
         # No edit in a block touches past and future, so what a kept one leaves there is known now.
@@ -75,7 +76,7 @@ class Trial:
         return self._site
 
     def __exit__(self, kind, value, trace):
-        if kind is None and self._is_kept:
+        if kind is None and self._kept is not None:
             self._history.past = self._past
             self._history.future = self._future
             self._log.append(("trial", True))

@@ -53,8 +53,9 @@ BARRED = (
 )
 # What stands in an __exit__: it assigns attributes, notes and decides, and computes nothing.
 EXITS = (
-    ast.FunctionDef, ast.arguments, ast.arg, ast.If, ast.BoolOp, ast.And, ast.Compare, ast.Is, ast.Constant, ast.Name,
-    ast.Attribute, ast.Assign, ast.Expr, ast.Call, ast.Tuple, ast.Load, ast.Store,
+    ast.FunctionDef, ast.arguments, ast.arg, ast.If, ast.BoolOp, ast.And, ast.Or, ast.UnaryOp, ast.Not, ast.Compare,
+    ast.Is, ast.IsNot, ast.Constant, ast.Name, ast.Attribute, ast.Assign, ast.Expr, ast.Call, ast.Tuple, ast.Load,
+    ast.Store,
 )
 
 
@@ -66,6 +67,18 @@ def nodes(kinds=ast.AST):
 def named(node):
     """Return the name that is called by a call, of a function or of a method."""
     return node.func.attr if isinstance(node.func, ast.Attribute) else getattr(node.func, "id", "")
+
+
+def asks_for_none(test):
+    """Return whether a test asks names and attributes for None, and nothing else."""
+    if isinstance(test, ast.BoolOp):
+        return all(asks_for_none(each) for each in test.values)
+    if isinstance(test, ast.UnaryOp):
+        return isinstance(test.op, ast.Not) and asks_for_none(test.operand)
+    if not isinstance(test, ast.Compare) or not isinstance(test.left, (ast.Name, ast.Attribute)):
+        return False
+    is_asked = [isinstance(each, (ast.Is, ast.IsNot)) for each in test.ops] == [True]
+    return is_asked and isinstance(test.comparators[0], ast.Constant) and test.comparators[0].value is None
 
 
 def bare_code(path):
@@ -236,6 +249,16 @@ class StatementsTest(unittest.TestCase):
                         self.assertIsInstance(each, EXITS)
                         if isinstance(each, ast.Call):
                             self.assertEqual(named(each), "append")
+                        if isinstance(each, ast.If):
+                            self.assertTrue(asks_for_none(each.test), ast.unparse(each.test))
+
+    def test_tests_in_exits(self):
+        told = {text: asks_for_none(ast.parse(text, mode="eval").body) for text in (
+            "kind is None", "kind is not None", "kind is None and self._kept is not None", "not (kind is None or a.b is None)",
+            "self._kept", "kind is None and self._kept", "not self._kept", "self._kept is True", "self._kept == 1", "kind",
+            "kind is self._kept", "a is None is None", "held() is None",
+        )}
+        self.assertEqual(list(told.values()), [True] * 4 + [False] * 9)
 
     def test_generators(self):
         made = [(name, node) for name, node in nodes(FUNCTIONS)
