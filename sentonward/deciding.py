@@ -1,74 +1,71 @@
 """How far paths must be read until their ends are decided: the readings of [40]."""
 
 from sentonward.errors import TooMany
-from sentonward.kinds import is_integer
 from sentonward.limits import READINGS
 from sentonward.reaching import reached
-from sentonward.views import Joint, Search
+from sentonward.views import fed
 
 
-def ended(joint, views):
-    """Return the settled view of a system at the end of the path."""
-    return joint.halted(views)[0][0]
+def ended(graph, view):
+    """Return the settled view behind a view at the end of the path."""
+    return fed(graph.team, view, (), True)[0]
 
 
-def put_off(view, sign):
-    """Return a settled view with one sign more at the end of its path."""
-    kind, at, state, signs = view
-    return kind, at, state, (*signs, sign)
+def is_odd(graph, at):
+    """Return whether some sign that is read from an index does not just stand behind the end that was there."""
+    _, _, state, beginning = graph.ends[at]
+    for (sign, _, target), after in zip(graph.moves[at], graph.afters[at]):
+        # A numbered view stands in the graph as it is, and its end with it.
+        is_there = target is not None and graph.search.nodes[target][0] == after
+        end = graph.ends[target] if is_there else ended(graph, after)
+        if end[2] != state or end[3] != (*beginning, sign):
+            return True
+    return False
 
 
-def undecided(joint):
-    """Return a dict of the numbered views that are on and do not decide, where all addresses settle.
+def undecided(graph):
+    """Return a dict of the indexes that do not decide, where all addresses settle.
 
-    A view decides if any sign that is read changes the end of the path only by standing behind it, and
-    if the view behind the sign decides, too.
+    An index decides if no sign that is read from it is odd, and if what is behind each sign decides, too.
     """
-    search = Search(joint, joint.openings)
     before = {}
-    odd = []
-    at = 0
-    while at < len(search.nodes):
-        views = search.nodes[at]
-        signs = joint.next_signs(views) if views[0][0] == "on" else []
-        for sign in signs:
-            after = joint.moved(views, sign)[0]
-            before.setdefault(search.found(after, at, sign), []).append(at)
-            if ended(joint, after) != put_off(ended(joint, views), sign):
-                odd.append(at)
-        at += 1
-    return {search.nodes[at]: True for at in reached(odd, before)}
+    for at, moves in enumerate(graph.moves):
+        for _, _, target in moves:
+            if target is not None:
+                before.setdefault(target, []).append(at)
+    odd = [at for at in range(len(graph.moves)) if is_odd(graph, at)]
+    return {at: True for at in reached(odd, before)}
 
 
-def branches(joint, views, signs):
+def branches(graph, view, new):
     """Return a list of the signs that may be read behind the signs of a reading, the new integer last.
 
     Each comes with the pairs of integers that represent different segments because of it.
     """
-    held = sorted(set([sign for sign in views[0][3] if is_integer(sign)]))
-    new = 1 + len(set([sign for sign in signs if is_integer(sign)]))
-    told = [(sign, ()) for sign in joint.vocabulary + held]
+    held = sorted(set([sign for sign in view[3] if not isinstance(sign, str)]))
+    told = [(sign, ()) for sign in graph.joint.vocabulary + held]
     return [*told, (new, tuple([(sign, new) for sign in held]))]
 
 
-def readings(system):
+def readings(graph):
     """Return the list of the readings of a system where there is a longest run and all addresses settle.
 
-    A reading is a tuple (state, signs, is_end, goal, apart): the addresses of the reading settle at the
-    goal, a tuple of a state and a beginning. Integers stand for segments that are not named, and the
-    pairs in apart for different ones. A reading stands ahead of those that its signs would also match.
+    graph is that of the system. A reading is a tuple (state, signs, is_end, goal, apart): the addresses
+    of the reading settle at the goal, a tuple of a state and a beginning. Integers stand for segments
+    that are not named, and the pairs in apart for different ones. A reading stands ahead of those that
+    its signs would also match.
     """
-    joint = Joint(system)
-    open_views = undecided(joint)
+    open_indexes = undecided(graph)
     told = []
-    waiting = [(state, (), joint.begun(state), ()) for state in joint.openings[::-1]]
+    waiting = [(state, (), graph.joint.begun(state)[0], 1, ()) for state in graph.joint.openings[::-1]]
     while waiting:
-        state, signs, views, apart = waiting.pop()
-        is_end = joint.plain(views)[0] in open_views
-        told.append((state, signs, is_end, ended(joint, views)[2:], apart))
+        state, signs, view, new, apart = waiting.pop()
+        is_end = view[0] == "on" and graph.search.place_of((view,)) in open_indexes
+        told.append((state, signs, is_end, ended(graph, view)[2:], apart))
         if len(told) > READINGS:
             raise TooMany(READINGS)
-        nexts = branches(joint, views, signs) if is_end else []
+        nexts = branches(graph, view, new) if is_end else []
         for sign, pairs in nexts[::-1]:
-            waiting.append((state, (*signs, sign), joint.moved(views, sign)[0], apart + pairs))
+            after = fed(graph.team, view, (sign,), False)[0]
+            waiting.append((state, (*signs, sign), after, new + 1 if sign == new else new, apart + pairs))
     return told

@@ -1,8 +1,12 @@
 """Where addresses end, and those that never do: [3], [14], [15], [23]."""
 
 from sentonward.addresses import Address
+from sentonward.books import Book, parts_of
 from sentonward.errors import Unsettled
-from sentonward.views import NEVER, Joint, Search, fed, opening, team_of
+from sentonward.lasting import first_never, lasting_states
+from sentonward.readings import HAND, place_in, restored, signs_in
+from sentonward.stands import Graph, first_lost
+from sentonward.views import fed, opening, spare_word, team_of
 
 
 def end_of(system, address):
@@ -21,19 +25,22 @@ def last_of(system, address):
     return told[0]
 
 
+def spelled_row(book, row):
+    """Return the address of the signs of a row, with a new word for each integer."""
+    words = []
+    for _ in range(HAND + 1):
+        words.append(spare_word(book.words, words))
+    return Address(row[0], restored(signs_in(row), words))
+
+
 def never_settles(system):
     """Return a shortest address that never settles, or None if all addresses settle."""
-    joint = Joint(system)
-    search = Search(joint, joint.openings)
-    at = 0
-    while at < len(search.nodes):
-        views = search.nodes[at]
-        if joint.halted(views)[0][0] == NEVER:
-            return search.address_of(at)
-        if views[0][0] == "on":
-            search.widen(at)
-        at += 1
-    return None
+    if isinstance(system, Book):
+        row = first_never(system)
+        return None if row is None else spelled_row(system, row)
+    if all([len(lasting_states(part.rules)) == 0 for part in parts_of(system)]):
+        return None
+    return first_lost(Graph(system))
 
 
 def downwards(lefts):
@@ -48,21 +55,20 @@ def ring(book, address):
     row is never read. So the same row comes again, with more behind its signs, or with the same.
     """
     reader = book.reader()
-    trace = reader.reading(address.state, (), address.path, True)
-    if trace.ending != "never":
+    signs = address.path
+    told = reader.reading(address.state, (), signs, True, [])
+    if told[0] != "never":
         return None
     seen = {}
     lefts = []
-    while trace.row() not in seen:
-        state, hand, sign = trace.row()
-        seen[trace.row()] = len(lefts)
-        lefts.append(trace.unread()[1:])
-        signs = hand if sign is None else (*hand, sign)
-        trace = reader.opened(state, signs, sign is None)
-        reader.finish(trace, sign is None)
-    at = seen[trace.row()]
-    lefts.append(trace.unread()[1:])
-    state, hand, sign = trace.row()
-    signs = hand if sign is None else (*hand, sign)
-    first = Address(state, signs + downwards(lefts[:at + 1]))
+    row = place_in(told, signs)
+    while row not in seen:
+        seen[row] = len(lefts)
+        lefts.append(signs[told[3] + 1:])
+        told, signs = reader.opened(row)
+        told = reader.finish(told, signs, row[2] is None, [])
+        row = place_in(told, signs)
+    lefts.append(signs[told[3] + 1:])
+    at = seen[row]
+    first = Address(row[0], signs_in(row) + downwards(lefts[:at + 1]))
     return first, downwards(lefts[at + 1:])

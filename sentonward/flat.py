@@ -1,12 +1,15 @@
 """Lists of flat rules, which tell the end of each address in one step: [40]."""
 
 from sentonward.deciding import readings
-from sentonward.ends import never_settles
 from sentonward.errors import Barred, InvalidText, Unsettled
 from sentonward.kinds import is_integer
-from sentonward.longest import longest
+from sentonward.longest import more_of
 from sentonward.rules import check_parts, copied_goal, fits_address, matched, parsed, rule_text, sent
 from sentonward.rules import sent_address, words_named
+from sentonward.stands import Graph, first_lost, ordered, settling
+
+# The shape of a rule that lets all addresses stay.
+STAY = ((), False, None)
 
 
 class FlatRule:
@@ -81,19 +84,6 @@ def flat_end(rules, address):
     return address
 
 
-def plan_of(system):
-    """Return a list of flat rules that send the addresses of the readings of a system to their ends.
-
-    Each comes with the pairs of its holes that stand for different segments. All addresses settle, and
-    there is a longest run.
-    """
-    told = []
-    for state, signs, is_end, goal, apart in readings(system):
-        other = None if goal == (state, signs) else goal
-        told.append((FlatRule(state, signs, other, is_exact=is_end), apart))
-    return told
-
-
 def root_of(links, token):
     """Return the token at which a dict of links ends."""
     while token in links:
@@ -123,96 +113,118 @@ def united(pattern, other):
     return links
 
 
-def shared_path(one, other, apart, named):
-    """Return the path of the addresses of a reading that a rule matches, or None if there are none.
+def shared_path(reading, pattern, named):
+    """Return the path of the addresses of a reading that a pattern matches, or None if there are none.
 
-    one is the rule of the reading. The path is as different as both patterns allow, and as long as the
-    longer one; integers stand for segments that no rule names.
+    The path is as different as both allow, and as long as the longer one; integers stand for segments
+    that no rule names.
     """
-    links = united(one.pattern, other.pattern)
-    if links is None or any([root_of(links, hole) == root_of(links, second) for hole, second in apart]):
+    _, signs, _, _, apart = reading
+    links = united(signs, pattern)
+    if links is None or any([root_of(links, sign) == root_of(links, other) for sign, other in apart]):
         return None
-    if any([is_integer(entry) and root_of(links, entry) in named for entry in one.pattern]):
+    if any([is_integer(sign) and root_of(links, sign) in named for sign in signs]):
         return None
-    tokens = [*one.pattern, *[other_token(entry) for entry in other.pattern[len(one.pattern):]]]
+    tokens = [*signs, *[other_token(entry) for entry in pattern[len(signs):]]]
     return tuple([root_of(links, token) for token in tokens])
 
 
-def is_long_enough(rule, many):
-    """Return whether a rule may fit paths with so many segments."""
-    return many == len(rule.pattern) if rule.is_exact else many >= len(rule.pattern)
+def is_long_enough(pattern, is_exact, many):
+    """Return whether a pattern may match paths with so many segments."""
+    return many == len(pattern) if is_exact else many >= len(pattern)
 
 
-def result(rule, path):
-    """Return the state and the path to which a rule sends a path that it matches."""
-    if rule.goal is None:
-        return rule.state, path
-    return rule.goal[0], sent(rule, path, matched(rule, path, True))
+def result(state, shape, path):
+    """Return the state and the path to which a rule of a state, given by its shape, sends a path that it matches."""
+    pattern, is_exact, goal = shape
+    if goal is None:
+        return state, path
+    return goal[0], sent(pattern, goal[1], path, matched(pattern, is_exact, path, True))
 
 
-def strays(earlier, other, reading, named, most):
-    """Return whether a rule behind earlier ones sends some address of a reading elsewhere than to its end.
+def is_missed(earlier, path):
+    """Return whether no rule matches a whole path."""
+    return all([matched(pattern, is_exact, path, True) is None for pattern, is_exact, _ in earlier])
 
-    It is enough to look at paths with at most so many segments.
+
+def strays(shapes, index, reading, named):
+    """Return whether the first rule that fits some address of a reading is the one with this index, and wrong there.
+
+    It is enough to look at paths with up to one segment more than the longest pattern has.
     """
-    one, apart = reading
-    sizes = [many for many in range(most + 1) if is_long_enough(one, many) and is_long_enough(other, many)]
-    path = shared_path(one, other, apart, named)
-    if not sizes or path is None or result(one, path) == result(other, path):
+    state, signs, is_end, goal, _ = reading
+    pattern, is_exact, _ = shapes[index]
+    if is_end and len(pattern) > len(signs) or is_exact and len(signs) > len(pattern):
         return False
-    for many in sizes:
-        # What stands behind is different from all the rest; the holes of one are numbered.
-        last = len(one.pattern) + many - len(path)
-        whole = path + tuple(range(len(one.pattern) + 1, last + 1))
-        if not any([matched(rule, whole, True) is not None for rule in earlier]):
-            return True
+    path = shared_path(reading, pattern, named)
+    if path is None or result(state, (signs, is_end, goal), path) == result(state, shapes[index], path):
+        return False
+    most = 1 + sorted(set([len(signs), *[len(shape[0]) for shape in shapes]]))[-1]
+    for many in range(len(path), most + 1):
+        if is_long_enough(signs, is_end, many) and is_long_enough(pattern, is_exact, many):
+            # What stands behind is different from all the rest; the integers of the reading are numbered.
+            new = len(signs) + 1
+            if is_missed(shapes[:index], path + tuple(range(new, new + many - len(path)))):
+                return True
     return False
 
 
-def is_right(rules, reading, named):
-    """Return whether the first rule of a list that fits sends each address of a reading to its end."""
-    one = reading[0]
+def is_right(shapes, reading, named):
+    """Return whether the first rule that fits sends each address of a reading to its end.
+
+    The rules are those of the state of the reading; their shapes are tuples (pattern, is_exact, goal).
+    """
+    state, signs, is_end, goal, _ = reading
     # Where no rule fits, the address itself is told, as if a last rule let it stay.
-    mine = [*[rule for rule in rules if rule.state == one.state], FlatRule(one.state, ())]
-    most = len(one.pattern)
-    for rule in mine:
-        if len(rule.pattern) > most:
-            most = len(rule.pattern)
-    for index, rule in enumerate(mine):
-        if strays(mine[:index], rule, reading, named, most + 1):
+    every = [*shapes, STAY]
+    for index, shape in enumerate(every):
+        if matched(shape[0], shape[1], signs, is_end) is not None:
+            return result(state, shape, signs) == goal or not strays(every, index, reading, named)
+        if strays(every, index, reading, named):
             return False
-        if matched(rule, one.pattern, one.is_exact) is not None:
-            break
     return True
 
 
 def flat(system):
     """Return a list of flat rules that replaces a system, and from which none can be removed."""
-    address = never_settles(system)
+    graph = Graph(system)
+    address = first_lost(graph)
     if address is not None:
         raise Unsettled(address)
-    told = longest(system)
-    if told[0] == "more":
-        raise Barred(told)
-    named = system.words
+    graph.complete()
+    ways = settling(graph)
+    order = ordered(graph, ways)
+    if len(order) < len(ways):
+        raise Barred(more_of(system, graph, ways, order))
     kept = []
+    shapes = {}
     # From the last one on: the rules ahead of a reading fit none of its addresses, so those that are
     # kept behind it tell whether it needs a rule of its own.
-    for reading in plan_of(system)[::-1]:
-        if not is_right(kept, reading, named):
-            kept.insert(0, reading[0])
+    for reading in readings(graph)[::-1]:
+        state, signs, is_end, goal, _ = reading
+        mine = shapes.setdefault(state, [])
+        if not is_right(mine, reading, graph.joint.named):
+            mine.insert(0, (signs, is_end, goal))
+            kept.insert(0, FlatRule(state, signs, None if goal == (state, signs) else goal, is_exact=is_end))
     return kept
 
 
 def is_flat(system, value):
     """Return whether any value is a list of flat rules that replaces a system."""
-    if never_settles(system) is not None or longest(system)[0] == "more":
+    graph = Graph(system)
+    if first_lost(graph) is not None:
         return False
-    plan = plan_of(system)
+    graph.complete()
+    ways = settling(graph)
+    if len(ordered(graph, ways)) < len(ways):
+        return False
+    plan = readings(graph)
     if not isinstance(value, list) or not all([isinstance(rule, FlatRule) for rule in value]):
         return False
+    shapes = {}
+    for rule in value:
+        shapes.setdefault(rule.state, []).append((rule.pattern, rule.is_exact, rule.goal))
     # All addresses of the other states settle at once.
-    known = {one.state: True for one, _ in plan}
-    others = sorted(set([rule.state for rule in value if rule.state not in known]))
-    whole = plan + [(FlatRule(state, ()), ()) for state in others]
-    return all([is_right(value, reading, system.words) for reading in whole])
+    known = {reading[0]: True for reading in plan}
+    whole = plan + [(state, (), False, (state, ()), ()) for state in shapes if state not in known]
+    return all([is_right(shapes.get(reading[0], []), reading, graph.joint.named) for reading in whole])

@@ -8,7 +8,7 @@ from sentonward.addresses import Address
 from sentonward.ends import end_of
 from sentonward.errors import OutOfRange
 from sentonward.kinds import is_index, is_integer, is_word
-from sentonward.stands import Graph, ordered, settling
+from sentonward.stands import ordered, settling, whole_graph
 from sentonward.views import fed, opening, spare_word, team_of
 
 MOST_SEGMENTS = 200
@@ -76,8 +76,11 @@ def way_from(ways, at):
     return signs
 
 
-def more_of(system, graph, ways, left):
+def more_of(system, graph, ways, order):
     """Return the tuple of runs that are longer and longer, where a ring lies on the way to an end."""
+    left = {at: True for at in ways}
+    for at in order:
+        del left[at]
     at, signs = ring_in(graph, left)
     state, route = graph.search.route(at)
     front, views = graph.joint.spelled(graph.joint.begun(state), route)
@@ -100,14 +103,11 @@ def more_of(system, graph, ways, left):
 
 def longest(system):
     """Return the tuple of a longest run, or of runs that are longer and longer."""
-    graph = Graph(system)
+    graph = whole_graph(system)
     ways = settling(graph)
     order = ordered(graph, ways)
-    rest = {at: True for at in ways}
-    for at in order:
-        del rest[at]
-    if rest:
-        return more_of(system, graph, ways, rest)
+    if len(order) < len(ways):
+        return more_of(system, graph, ways, order)
     return most_of(system, graph, order)
 
 
@@ -167,7 +167,7 @@ def most_steps(system, many):
     """Return the most steps of the addresses with so many segments, and one that takes them, or None."""
     if not is_index(many, MOST_SEGMENTS + 1):
         raise OutOfRange(many)
-    graph = Graph(system)
+    graph = whole_graph(system)
     indexes = list(range(len(graph.moves)))
     plans = [{at: stop_plan(graph, at) for at in indexes if graph.stops[at] is not None}]
     for _ in range(many):
@@ -204,7 +204,7 @@ def beyond(system, steps):
     """Return a shortest address that settles after more than so many steps, or None."""
     if not is_index(steps, MOST_STEPS + 1):
         raise OutOfRange(steps)
-    graph = Graph(system)
+    graph = whole_graph(system)
     # An entry has an index, the steps so far, the entry that it was found from, and by which sign.
     queue = [(at, 0, None, state) for state, at in graph.beginnings()]
     most = {at: 0 for at, _, _, _ in queue}

@@ -58,44 +58,43 @@ def words_named(pattern, goal):
     return tuple(sorted(set([entry for entry in entries if is_word(entry)])))
 
 
-def matched(rule, signs, is_end):
-    """Return a dict of what the holes of a rule match, or None if its pattern does not match.
+def matched(pattern, is_exact, signs, is_end):
+    """Return a dict of what the holes of a pattern match, or None if it does not match.
 
     signs are the first segments of the path, or integers that represent such; is_end says whether
     the path has no others.
     """
-    pattern = rule.pattern
     if len(signs) < len(pattern):
         return None
-    if rule.is_exact and not (is_end and len(signs) == len(pattern)):
+    if is_exact and not (is_end and len(signs) == len(pattern)):
         return None
     holes = {}
     for entry, sign in zip(pattern, signs):
-        wanted = holes.setdefault(entry, sign) if is_integer(entry) else entry
+        wanted = entry if isinstance(entry, str) else holes.setdefault(entry, sign)
         if wanted != sign:
             return None
     return holes
 
 
-def sent(rule, signs, holes):
+def sent(pattern, beginning, signs, holes):
     """Return the signs of the path to which a rule with a goal sends a path that it matches."""
-    beginning = [holes[entry] if is_integer(entry) else entry for entry in rule.goal[1]]
-    return tuple(beginning) + signs[len(rule.pattern):]
+    filled = [entry if isinstance(entry, str) else holes[entry] for entry in beginning]
+    return tuple(filled) + signs[len(pattern):]
 
 
 def fits_address(rule, address):
     """Return whether a rule fits an address."""
-    return address.state == rule.state and matched(rule, address.path, True) is not None
+    return address.state == rule.state and matched(rule.pattern, rule.is_exact, address.path, True) is not None
 
 
 def sent_address(rule, address):
     """Return None, the address itself, or the address to which a rule sends it."""
-    holes = matched(rule, address.path, True) if address.state == rule.state else None
-    if holes is None:
+    if address.state != rule.state:
         return None
-    if rule.goal is None:
-        return address
-    return Address(rule.goal[0], sent(rule, address.path, holes))
+    holes = matched(rule.pattern, rule.is_exact, address.path, True)
+    if holes is None or rule.goal is None:
+        return None if holes is None else address
+    return Address(rule.goal[0], sent(rule.pattern, rule.goal[1], address.path, holes))
 
 
 def path_text(entries, is_exact):

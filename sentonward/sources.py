@@ -3,8 +3,9 @@
 from sentonward.addresses import Address
 from sentonward.errors import InvalidWords, OutOfRange
 from sentonward.kinds import are_words, is_index, is_integer
+from sentonward.readings import numbered
 from sentonward.stands import ordered, settling
-from sentonward.views import Joint, Search, fed, opening, team_of
+from sentonward.views import Joint, Search, behind, fed, opening, team_of
 
 MOST_WORDS = 8
 MOST_SEGMENTS = 200
@@ -19,16 +20,22 @@ def check_words(value):
 class Net:
     """The views that are on and that a state leads to by some words, as a graph, and how they end at a goal.
 
-    A move is a tuple (word, left, target); moves behind which no address ends at the goal may be left
-    out. If target is None, then the address has settled, and ends at the goal exactly if the last
-    segments of the goal, as many as left says, are all that stands behind. stops has 0 where the end
-    of the path leads to the goal, and None elsewhere.
+    apart has the words that are told apart from all others; those that the system or the goal names are
+    told apart, too. The others are read as integers, which are numbered as those of rows are.
+
+    A move is a tuple (sign, left, target), and stands there as often as there are words for its sign;
+    moves behind which no address ends at the goal may be left out. If target is None, then the address
+    has settled, and ends at the goal exactly if the last segments of the goal, as many as left says, are
+    all that stands behind. stops has 0 where the end of the path leads to the goal, and None elsewhere.
     """
 
-    def __init__(self, system, goal, state, words):
+    def __init__(self, system, goal, state, words, apart):
         self._team = team_of(system)
         self._goal = goal
-        self._words = sorted(set(list(words)))
+        self._named = {word: True for word in (*system.words, *goal.path, *apart)}
+        self._words = sorted(set([word for word in words if word in self._named]))
+        self._free = len(words) - len(self._words)
+        self._is_plain = len(self._team) == 1 and all([word in self._team[0].named for word in self._named])
         self._most_left = 0
         for segment in goal.path[::-1]:
             if segment not in self._words:
@@ -44,8 +51,10 @@ class Net:
 
     def lead(self, view):
         """Return (left, target) of the moves to a view, or None if no address behind it ends at the goal."""
-        kind, _, state, signs = view
+        kind, at, state, signs = view
         if kind == "on":
+            if view not in self._places:
+                view = (kind, at, state, numbered(signs, self._named)[0])
             if view not in self._places:
                 self._places[view] = len(self._views)
                 self._views.append(view)
@@ -56,15 +65,21 @@ class Net:
             return None
         return left, None
 
+    def signs_behind(self, view):
+        """Return a list of tuples (sign, many) of what may be read from a view, and of how many words that is."""
+        held = len(set([sign for sign in view[3] if is_integer(sign)]))
+        told = [(sign, 1) for sign in self._words + list(range(1, held + 1))]
+        return told if held == self._free else [*told, (held + 1, self._free - held)]
+
     def enter(self, view):
         """Note the end and the moves of the next view."""
-        end = fed(self._team, view, (), True)[0]
+        end = behind(self._team, view, None, self._is_plain)[0]
         self.stops.append(0 if end == ("settled", 0, self._goal.state, self._goal.path) else None)
         moves = []
-        for word in self._words:
-            told = self.lead(fed(self._team, view, (word,), False)[0])
+        for sign, many in self.signs_behind(view):
+            told = self.lead(behind(self._team, view, sign, self._is_plain)[0])
             if told is not None:
-                moves.append((word, *told))
+                moves.extend([(sign, *told)] * many)
         self.moves.append(moves)
 
     def rest(self, left):
@@ -109,6 +124,58 @@ def paths_of(net, rows, many):
                     waiting.append(((*path, word), more, target))
 
 
+def tally(keys):
+    """Return the ascending tuple of tuples (key, times) of the different keys in a list."""
+    told = {}
+    for key in keys:
+        told[key] = told.get(key, 0) + 1
+    return tuple(sorted(set(list(told.items()))))
+
+
+def grouped(net):
+    """Return a dict of the indexes of a net that lead to the goal with their groups, and the tallies of these.
+
+    From all indexes of a group as many paths of each length lead to the goal: either all of them stop there
+    or none does, and the tally has what their moves lead to: tuples ((left, group), times), where the group
+    is -1 if the address has settled.
+    """
+    groups = {at: 0 if net.stops[at] is None else 1 for at in settling(net)}
+    many = -1
+    while True:
+        found = {}
+        told = {}
+        for at in groups:
+            moves = [move for move in net.moves[at] if move[2] is None or move[2] in groups]
+            nexts = tally([(left, groups.get(target, -1)) for _, left, target in moves])
+            found[at] = told.setdefault((groups[at], nexts), len(told))
+        groups = found
+        # Groups are only divided. So if there are no more of them, then they are the same, by the same numbers.
+        if len(told) == many:
+            return groups, [nexts for _, nexts in told]
+        many = len(told)
+
+
+def count_of(net, many):
+    """Return how many paths with so many segments lead to the goal from the start of a net."""
+    left, start = net.start
+    if start is None:
+        return 1 if left == many else 0
+    groups, tallies = grouped(net)
+    if start not in groups:
+        return 0
+    row = [0] * len(tallies)
+    for at, group in groups.items():
+        row[group] = 0 if net.stops[at] is None else 1
+    plans = [[(times, group) for (_, group), times in nexts if group >= 0] for nexts in tallies]
+    settled = [{left: times for (left, group), times in nexts if group < 0} for nexts in tallies]
+    for size in range(many):
+        row = [
+            ends.get(size, 0) + sum([times * row[group] for times, group in plan])
+            for plan, ends in zip(plans, settled)
+        ]
+    return row[groups[start]]
+
+
 def most_segments(net):
     """Return the most segments of a path that leads to the goal, or None if there is no maximum."""
     ways = settling(net)
@@ -130,7 +197,7 @@ def most_segments(net):
 def sources(system, goal, state, words):
     """Yield all addresses with a state and segments from words that settle at goal, in ascending order."""
     check_words(words)
-    net = Net(system, goal, state, words)
+    net = Net(system, goal, state, words, words)
     most = most_segments(net)
     rows = []
     many = 0
@@ -146,17 +213,14 @@ def source_count(system, goal, state, words, many):
     check_words(words)
     if not is_index(many, MOST_SEGMENTS + 1):
         raise OutOfRange(many)
-    net = Net(system, goal, state, words)
-    rows = []
-    while len(rows) <= many:
-        lengthen(net, rows)
-    return 0 if net.start is None else count_behind(rows, many, *net.start)
+    net = Net(system, goal, state, words, ())
+    return 0 if net.start is None else count_of(net, many)
 
 
 def are_endless(system, goal, state, words):
     """Return whether there are infinitely many addresses of sources."""
     check_words(words)
-    return most_segments(Net(system, goal, state, words)) is None
+    return most_segments(Net(system, goal, state, words, ())) is None
 
 
 def is_filled(signs, words, named):

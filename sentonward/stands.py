@@ -1,7 +1,7 @@
 """The stands of a system as a graph: where each sign leads, and after how many steps."""
 
 from sentonward.addresses import Address
-from sentonward.views import Joint, Search
+from sentonward.views import Joint, Search, behind
 
 # Behind the last sign that is read any segment may stand.
 FILLING = "a"
@@ -11,30 +11,49 @@ class Graph:
     """The views of a system that are on, by their indexes: the ends of paths, and moves to others.
 
     A move is a tuple (sign, steps, target); target is None if the address settles whatever stands
-    behind. stops has the steps at the end of the path, or None where the address never settles.
+    behind. There is none by a sign behind which addresses never settle. afters has the views to which
+    the moves lead, with the signs as they are read. stops has the steps at the end of the path, or None
+    where the address never settles, and ends the view behind it.
     """
 
     def __init__(self, system):
         self.joint = Joint(system)
+        self.team = self.joint.teams[0]
         self.search = Search(self.joint, self.joint.openings)
         self.moves = []
+        self.afters = []
         self.stops = []
-        while len(self.moves) < len(self.search.nodes):
-            self.enter(self.search.nodes[len(self.moves)])
+        self.ends = []
+        # Of the first sign behind which addresses never settle: from which index it was read, and how
+        # many views had been found then.
+        self.lost = None
 
-    def enter(self, views):
-        """Note the end and the moves of the next views of the search."""
+    def enter(self):
+        """Note the end and the moves of the next view of the search."""
         at = len(self.moves)
-        ends, steps = self.joint.halted(views)
-        self.stops.append(None if ends[0][0] == "never" else steps)
+        views = self.search.nodes[at]
+        # The named words are those of the books, so the rows of one book are asked as they stand.
+        is_plain = len(self.team) == 1
+        end, steps = behind(self.team, views[0], None, is_plain)
+        self.stops.append(None if end[0] == "never" else steps)
+        self.ends.append(end)
         moves = []
-        self.moves.append(moves)
+        afters = []
         for sign in self.joint.next_signs(views):
-            after, steps = self.joint.moved(views, sign)
-            if after[0][0] == "on":
-                moves.append((sign, steps, self.search.found(after, at, sign)))
-            elif after[0][0] == "settled":
-                moves.append((sign, steps, None))
+            after, steps = behind(self.team, views[0], sign, is_plain)
+            if after[0] == "never":
+                if self.lost is None:
+                    self.lost = (at, sign, len(self.search.nodes))
+            else:
+                moves.append((sign, steps, self.search.found((after,), at, sign) if after[0] == "on" else None))
+                afters.append(after)
+        self.moves.append(moves)
+        self.afters.append(afters)
+
+    def complete(self):
+        """Note the ends and the moves of all views."""
+        while len(self.moves) < len(self.search.nodes):
+            self.enter()
 
     def beginnings(self):
         """Return the list of tuples (state, index) of what is reached with nothing read."""
@@ -44,6 +63,29 @@ class Graph:
         """Return the address of signs that are read from a state, filled up to so many segments."""
         path = self.joint.spelled(self.joint.begun(state), signs)[0]
         return Address(state, path + (FILLING,) * (many - len(path)))
+
+
+def whole_graph(system):
+    """Return the graph of a system with the ends and the moves of all views."""
+    graph = Graph(system)
+    graph.complete()
+    return graph
+
+
+def first_lost(graph):
+    """Return a shortest address that never settles, or None. No more of the graph is found than it needs."""
+    at = 0
+    while at < len(graph.search.nodes) and (graph.lost is None or at < graph.lost[2]):
+        if at == len(graph.moves):
+            graph.enter()
+        if graph.stops[at] is None:
+            return graph.search.address_of(at)
+        at += 1
+    if graph.lost is None:
+        return None
+    origin, sign, _ = graph.lost
+    state, signs = graph.search.route(origin)
+    return graph.spelled(state, signs + [sign], 0)
 
 
 def settling(graph):

@@ -77,7 +77,7 @@ def asked(book, row):
     """Return the list of the rows that are asked for the value of a row."""
     if not is_row(book, row):
         raise UnknownRow(row)
-    return list(book.reader().traced(row).asked)
+    return book.reader().traced(row)[1]
 
 
 def is_rank(reader, value, row):
@@ -87,7 +87,7 @@ def is_rank(reader, value, row):
         return rank is None
     if not is_integer(rank) or rank < 0:
         return False
-    ranks = [value[each][1] for each in reader.traced(row).asked]
+    ranks = [value[each][1] for each in reader.traced(row)[1]]
     return all([is_integer(each) and each < rank for each in ranks])
 
 

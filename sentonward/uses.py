@@ -76,7 +76,7 @@ def met(book, index, states):
 
 def is_passing(reader, row, state):
     """Return whether a state is that of a row, or the one to which the row itself leads."""
-    return row[0] == state or reader.traced(row).place == state
+    return row[0] == state or reader.traced(row)[0][1] == state
 
 
 def passed(book, states, state):

@@ -7,7 +7,7 @@ index at, ("settled", 0, state, beginning) behind the last book, or NEVER.
 from sentonward.addresses import Address
 from sentonward.books import parts_of
 from sentonward.kinds import is_integer
-from sentonward.readings import numbered
+from sentonward.readings import HAND, numbered
 
 NEVER = ("never", 0, "", ())
 ALPHABET = "abcdefghijklmnopqrstuvwxyz"
@@ -32,16 +32,33 @@ def fed(team, view, signs, is_end):
         return ("settled", 0, state, hand + signs), 0
     steps = 0
     while at < len(team):
-        trace = team[at].reading(state, hand, signs, is_end)
-        if trace.ending == "never":
+        kind, state, hand, done, more, _ = team[at].reading(state, hand, signs, is_end, [])
+        if kind == "never":
             return NEVER, 0
-        steps += trace.steps
-        if trace.ending == "on":
-            return ("on", at, trace.place, trace.front), steps
+        steps += more
+        if kind == "on":
+            return ("on", at, state, hand), steps
         # The next book reads what this one has settled, with all that stands behind.
-        state, hand, signs = trace.place, (), trace.front + trace.unread()
+        signs, hand = hand + signs[done:], ()
         at += 1
     return ("settled", 0, state, signs), steps
+
+
+def behind(team, view, sign, is_plain):
+    """Return the view after reading a sign from a view that is on, and the steps this takes.
+
+    None stands for the end of the path. is_plain says that there is one book, whose named words are all
+    words among the signs, and that the integers are numbered: then its rows are asked as they stand.
+    """
+    if not is_plain:
+        return fed(team, view, () if sign is None else (sign,), sign is None)
+    _, _, state, hand = view
+    if sign is not None and len(hand) < HAND:
+        return ("on", 0, state, (*hand, sign)), 0
+    value = team[0].known((state, hand, sign))[0]
+    if value[0] == "never":
+        return NEVER, 0
+    return (value[0], 0, value[1], value[2]), value[3]
 
 
 def word_at(number):
@@ -153,11 +170,19 @@ class Search:
 
     def found(self, views, origin, sign):
         """Return the index of views that a sign leads to from the ones with an index."""
-        views = self.joint.plain(views)[0]
+        if views not in self._places:
+            # All that have a place are numbered.
+            views = self.joint.plain(views)[0]
         if views not in self._places:
             self._places[views] = len(self.nodes)
             self.nodes.append(views)
             self._origins.append((origin, sign))
+        return self._places[views]
+
+    def place_of(self, views):
+        """Return the index of views that have been found."""
+        if views not in self._places:
+            views = self.joint.plain(views)[0]
         return self._places[views]
 
     def widen(self, at):

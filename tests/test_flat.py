@@ -14,6 +14,7 @@ from sentonward.errors import Barred, InvalidRule, TooMany, Unsettled
 from sentonward.flat import FlatRule, flat, flat_end, is_flat
 from sentonward.longest import is_longest, longest
 from sentonward.rules import Rule
+from sentonward.stands import whole_graph
 from sentonward.tables import value_of
 from tests import naive
 from tests.drawn import DROP, book, drawn_book, drawn_chain
@@ -220,14 +221,14 @@ class FlatTest(unittest.TestCase):
         for system, count in BY_HAND:
             told = readings_counted(system, 3)
             self.assertIn(count, (None, told))
-            self.assertEqual(len(readings(system)), told)
+            self.assertEqual(len(readings(whole_graph(system))), told)
         for system, _ in FLATTENED:
-            told = len(readings(system))
+            told = len(readings(whole_graph(system)))
             if told < 50:
                 self.assertEqual(readings_counted(system, 3), told)
 
     def test_a_hundred_readings(self):
-        self.assertEqual(len(readings(HUNDRED)), 100)
+        self.assertEqual(len(readings(whole_graph(HUNDRED))), 100)
         told = flat(HUNDRED)
         self.assertIs(is_flat(HUNDRED, told), True)
         self.assertIsNone(ended_flat(HUNDRED, told, 2))
