@@ -24,6 +24,12 @@ SHORT = naive.paths(("a", "b") + OTHERS, 3)
 TURNING = book("s /1/2/.. to s /2/1/..")
 GROWING = book("s /1/.. to s /a/1/..")
 
+# The second book loops for the last of four segments; what the first one leads to is sent away from there.
+FOURTH = (
+    book("v /1/.. to y /a/1/..", "z /.. to u /..", "r /.. to u /.."),
+    book("y /1/2/.. to z /..", "z /1/2/.. to r /..", "r /1 to r /1"),
+)
+
 # Systems and the segments of a shortest address that never settles.
 NEVER = (
     (book("s /.. to s /.."), 0), (book("s / to s /a", "s /a to s /"), 0), (book("s / to t /", "t /.. to t /a/.."), 0),
@@ -42,6 +48,7 @@ NEVER = (
     (Chain(book("s /1/2/.. to t /1/.."), Book(), book("t /1/1/.. to t /1/1/..")), 2),
     (Chain(book("s /1/2/.. to u /1/.."), book("u /1/1/.. to v /1/1/.."), book("v /1/.. to v /1/..")), 1),
     (Chain(book("s /1/2/.. to u /1/.."), book("u /1/1/.. to w /1/1/.."), book("w /1/.. to x /..", "x / to x /a")), None),
+    (Chain(*FOURTH), 4), (Chain(book("q /1/2 stays", "q /1/2/.. to q /2/1/..") | FOURTH[0], FOURTH[1]), 3),
     (DROP, None), (Book(), None), (book("s /.. stays"), None), (LEVELS, None), (Chain(DROP, Book()), None),
 )
 

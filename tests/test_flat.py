@@ -208,6 +208,10 @@ class FlatTest(unittest.TestCase):
             self.assertEqual(len(told), 1)
             self.assertIsNone(ended_flat(system, told))
         self.assertEqual(len(texts(book("s /1/2/.. to t /..", "t /1/2/.. to u /.."))), 4)
+        # A rule that lets addresses stay keeps them from the next one.
+        stays = ["s /a/.. stays", "s /1/.. to t /.."]
+        self.assertEqual((texts(book(*stays)), texts(book(*stays[::-1]))), (stays, stays[1:]))
+        self.assertEqual(texts(book("s /1/1 stays", "s /1/2/.. to t /..")), ["s /1/1 stays", "s /1/2/.. to t /.."])
         chain = Chain(book("s /1/2/.. to t /2/1/.."), book("t /1/2/.. to s /2/1/.."))
         self.assertEqual([len(rule.pattern) for rule in flat(chain)], [2])
         # The second book undoes what the first one does, but for the state.
@@ -252,6 +256,64 @@ class FlatTest(unittest.TestCase):
         self.assertEqual(str(inspect.signature(flat)), "(system)")
         self.assertEqual(str(inspect.signature(is_flat)), "(system, value)")
         self.assertEqual((flat.__module__, is_flat.__module__), (module.__name__, module.__name__))
+
+
+class SmallBooksTest(unittest.TestCase):
+    """Books of one to three rules."""
+
+    def test_by_hand(self):
+        one = Book(Rule("s", (1, 1), ("t", ("a",))))
+        self.assertIs(is_flat(one, [FlatRule("s", (3, 3), ("t", ("a",)))]), True)
+        self.assertEqual([rule.text() for rule in flat(one)], ["s /1/1/.. to t /a/.."])
+        for rule, right in (
+            (FlatRule("s", (3, 3), ("t", ("b",))), False), (FlatRule("s", (3, 4), ("t", ("a",))), False),
+            (FlatRule("s", (3, 3), ("t", ("a",)), is_exact=True), False), (FlatRule("t", (3, 3), ("t", ("a",))), False),
+            (FlatRule("s", (1, 1), ("t", ("a",))), True), (FlatRule("s", ("a", "a"), ("t", ("a",))), False),
+        ):
+            self.assertIs(is_flat(one, [rule]), right)
+        self.assertIs(is_flat(one, []), False)
+        # The same book is asked again, and another one that is changed in between.
+        self.assertEqual(flat(one), flat(one))
+        one |= Rule("t", ("a",), ("u", ()))
+        self.assertIs(is_flat(one, [FlatRule("s", (3, 3), ("t", ("a",)))]), False)
+        self.assertIs(is_flat(one, flat(one)), True)
+        one.take(0)
+        self.assertEqual([rule.text() for rule in flat(one)], ["t /a/.. to u /.."])
+
+    def test_drawn(self):
+        found = {"flat": 0, Unsettled: 0, Barred: 0, TooMany: 0}
+        for seed in range(150):
+            one = drawn_book(f"few {seed}", 3, 2, 3)
+            try:
+                told = flat(one)
+            except (Unsettled, Barred, TooMany) as error:
+                found[type(error)] += 1
+                if not isinstance(error, TooMany):
+                    self.assertIs(is_flat(one, []), False)
+                continue
+            found["flat"] += 1
+            self.assertIsNone(ended_flat(one, told))
+            self.assertIs(is_flat(one, told), True)
+            for at in range(len(told)):
+                self.assertIs(is_flat(one, told[:at] + told[at + 1:]), False)
+        self.assertGreater(min(found["flat"], found[Unsettled], found[Barred]), 15)
+
+    def test_errors_of_three_rules(self):
+        never, more = Rule("u", (1,), ("u", (1,))), Rule("v", (1,), ("v", ()))
+        for rules, error in (([never], Unsettled), ([more], Barred), ([more, never], Unsettled), ([never, more], Unsettled)):
+            one = Book.of([Rule("s", (1, 1), ("t", ("a",))), *rules])
+            with self.assertRaises(error) as caught:
+                flat(one)
+            if error is Unsettled:
+                self.assertEqual((caught.exception.address.state, len(caught.exception.address)), ("u", 1))
+            else:
+                self.assertIs(is_longest(one, caught.exception.value), True)
+            for value in ([], None, [FlatRule("s", (3, 3), ("t", ("a",)))]):
+                self.assertIs(is_flat(one, value), False)
+        many = list(HUNDRED_AND_ONE.rules)
+        for rules, error in ((many, TooMany), ([*many, never], Unsettled), ([*many, more], Barred), ([*many, more, never], Unsettled)):
+            with self.assertRaises(error):
+                flat(Book.of(rules))
 
 
 def rules_of(*texts):

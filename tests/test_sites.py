@@ -14,6 +14,7 @@ from sentonward.longest import beyond
 from sentonward.rules import Rule
 from sentonward.sites import FreeSite, LoggedFreeSite, LoggedSite, Site
 from sentonward.wishes import Wish
+from tests import naive
 from tests.drawn import DROP, address, book, drawn_rule
 from tests.models import Model, fields_of, shown
 from tests.test_books import NO_INDEXES
@@ -258,6 +259,45 @@ class EditsTest(unittest.TestCase):
             self.assertIsNone(never_settles(each))
             self.assertTrue(most is None or beyond(each, most) is None)
             self.assertEqual([wish.broken(each) for wish in wishes], [None] * len(wishes))
+
+    def test_rules_that_lead_to_one_state(self):
+        first, second, third = [Rule(state, ("a",), ("t", ())) for state in "svw"]
+        for kind, guarded in ((Site, True), (LoggedSite, True), (FreeSite, False), (LoggedFreeSite, False)):
+            site = kind(Book(first))
+            site.insert(1, third)
+            site.insert(0, second)
+            self.assertEqual(site.rules, (second, first, third))
+            site.undo()
+            self.assertEqual((site.rules, site.undoable, site.redoable), ((first, third), 1, 1))
+            back = Rule("t", (), ("s", ("a",)))
+            due = (GoesOn, {"address": 0}) if guarded else None
+            self.assertEqual(self.outcome(lambda: site.insert(0, back)), due)
+            self.assertEqual((len(site), site.undoable, site.redoable), (2, 1, 1) if guarded else (3, 2, 0))
+            with site.trial():
+                self.assertEqual(self.outcome(lambda: site.set_rules([third, first, back])), due)
+                self.assertIsNone(site.insert(0, second))
+            self.assertEqual(len(site), 2 if guarded else 3)
+
+    def test_guards_of_small_books_beside_followed_runs(self):
+        found = {True: 0, False: 0}
+        for seed in range(80):
+            rng = random.Random(f"guards {seed}")
+            site, rules = Site(Book()), []
+            for _ in range(6):
+                at = rng.randint(0, len(rules))
+                new = rules[:at] + [drawn_rule(rng, "stu", "ab")] + rules[at:]
+                books = naive.plain(Book.of(new))
+                lost = [len(path) for path in naive.paths(("a", "b", "x", "y"), 3) for state in "stu"
+                        if naive.end(books, (state, path), 200, 40) in (None, "long")]
+                due = (GoesOn, {"address": min(lost)}) if lost else None
+                self.assertEqual(self.outcome(lambda: site.insert(at, new[at])), due)
+                rules = rules if lost else new
+                self.assertEqual(site.rules, tuple(rules))
+                found[due is None] += 1
+                if len(rules) == 4:
+                    site.undo(4)
+                    rules = []
+        self.assertGreater(min(found.values()), 40)
 
     def test_free_sites_beside_a_model(self):
         for seed in range(20):

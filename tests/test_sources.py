@@ -12,7 +12,7 @@ from sentonward.books import Book, Chain
 from sentonward.ends import end_of
 from sentonward.errors import InvalidWords, OutOfRange
 from sentonward.rules import Rule
-from sentonward.sources import are_endless, some_source, source_count, sources
+from sentonward.sources import Net, are_endless, count_behind, grouped, lengthen, some_source, source_count, sources, tally
 from tests import naive
 from tests.drawn import DROP, address, book, drawn_book, drawn_chain
 from tests.test_ends import GROWING, TURNING
@@ -21,6 +21,12 @@ from tests.values import NO_WORDS, nested
 
 SYSTEMS = [drawn_book(seed, 3, 2, 4) for seed in range(70)] + [
     drawn_chain(seed, books, 2, 2, 3) for seed in range(12) for books in (2, 3)
+]
+
+# Some of them are named, some are not.
+EIGHT = ["a", "b", "p", "q", "r", "x", "y", "z"]
+MIXED = [drawn_book(f"mixed {seed}", 2, 2, 4) for seed in range(14)] + [
+    drawn_chain(f"mixed {seed}", books, 2, 2, 2) for seed in range(3) for books in (2, 3)
 ]
 
 FIRST = book("s /1/2/.. to s /1/..")
@@ -266,6 +272,112 @@ class CountTest(unittest.TestCase):
         for value in (["a"], ("a",), list("abcdefgh"), tuple("hgfedcba"), ["abcdefgh", "z"]):
             self.assertEqual(source_count(DROP, address("s:"), "s", value, 0), 1)
             self.assertIs(are_endless(DROP, address("s:"), "s", value), False)
+
+
+class ManyWordsTest(unittest.TestCase):
+    """Words that nothing names are counted together, so counts are looked at beside followed runs."""
+
+    def followed(self, system, state, words, many):
+        """Return a dict of the ends, as tuples, of all paths with so many segments, with the number of these."""
+        books, told = naive.plain(system), {}
+        for path in itertools.product(words, repeat=many):
+            end = naive.end(books, (state, path), 400, 100)
+            if end == "long":
+                self.assertIsNone(end_of(system, Address(state, path)))
+            elif end is not None:
+                told[end[0]] = told.get(end[0], 0) + 1
+        return told
+
+    def assert_counts(self, system, state, words, many, step):
+        """The counts for some of the ends, and for goals that are none, are those of followed runs."""
+        told = self.followed(system, state, words, many)
+        goals = sorted(told, key=repr)[::step] + [(state, ("a", "x")), ("t", ("x",)), ("s", ()), ("s", ("p", "other"))]
+        for end in goals:
+            count = source_count(system, Address(*end), state, words, many)
+            self.assertEqual(count, told.get(end, 0), (end, state, words, many))
+        return len(told)
+
+    def test_few_segments(self):
+        found = 0
+        for system in (FIRST, LAST, PAST, BEGUN, BOTH, DROP, FIRST + DROP, GROWING, TURNING, *MIXED):
+            for state in system.states:
+                for words, step in ((EIGHT, 29), (EIGHT[::-1], 53), (["a"], 1), (["x"], 1), (["b", "z"], 1)):
+                    for many in (0, 1, 2, 3):
+                        found += self.assert_counts(system, state, words, many, step)
+        self.assertGreater(found, 5000)
+
+    def test_all_ends_of_short_paths(self):
+        # The sum over all goals is the number of all paths that settle.
+        for system in (FIRST, LAST, PAST, BEGUN, DROP, *MIXED[:4]):
+            for many in (0, 1, 2):
+                told = self.followed(system, "s", EIGHT, many)
+                counts = {end: source_count(system, Address(*end), "s", EIGHT, many) for end in told}
+                self.assertEqual(counts, told)
+
+    def test_two_hundred_segments_of_one_word(self):
+        found = 0
+        for system in (FIRST, LAST, PAST, BEGUN, BOTH, DROP, DROP + PAST, *MIXED, *SYSTEMS[:20]):
+            for state, word in itertools.product(system.states, ("a", "x")):
+                end = naive.end(naive.plain(system), (state, (word,) * 200), 600, 500)
+                if end not in (None, "long"):
+                    (goal, path), _ = end
+                    self.assertEqual(source_count(system, Address(goal, path), state, [word], 200), 1)
+                    self.assertEqual(source_count(system, Address(goal, (*path, word)), state, [word], 200), 0)
+                    found += 1
+        self.assertGreater(found, 100)
+
+    def test_two_hundred_segments_of_eight_words(self):
+        for word in EIGHT:
+            goal = Address("s", [word])
+            self.assertEqual(source_count(FIRST, goal, "s", EIGHT, 200), 8 ** 199)
+            self.assertEqual(source_count(LAST, goal, "s", EIGHT, 200), 8 ** 199)
+            # The second one is the first that comes again, or no other one is.
+            self.assertEqual(source_count(DROP, Address("t", [word]), "s", EIGHT, 200), 7 ** 198)
+            self.assertEqual(source_count(DROP, goal, "s", EIGHT, 200), 7 ** 199)
+        self.assertEqual(source_count(PAST, Address("s"), "s", EIGHT, 200), 8 ** 200)
+        self.assertEqual(source_count(book("s /a/.. to s /..", "s /x/.. to s /.."), Address("s"), "s", EIGHT, 200), 2 ** 200)
+        self.assertEqual(source_count(book("s /1/1/.. to s /1/.."), Address("s", ["a"]), "s", EIGHT, 200), 1)
+        self.assertEqual(source_count(book("s /1/1/.. to s /.."), Address("s", ["a"]), "s", EIGHT, 200), 0)
+        self.assertEqual(source_count(book("s /1/1/.. to s /.."), Address("s"), "s", EIGHT, 200), 8 ** 100)
+        self.assertEqual(source_count(Book(), Address("s", ["a", "x"] * 100), "s", EIGHT, 200), 1)
+        self.assertEqual(source_count(book("s /1/.. to t /.."), Address("t", ["q"] * 199), "s", EIGHT, 200), 8)
+        self.assertEqual(source_count(book("s /1/2/.. to t /2/2/.."), Address("t", ["q"] * 200), "s", EIGHT, 200), 8)
+
+    def test_words_that_are_told_apart_have_the_same_counts(self):
+        found = 0
+        for system in (FIRST, LAST, PAST, BEGUN, BOTH, DROP, DROP + PAST, *MIXED):
+            for goal in (Address("s"), Address("t", ["x"]), Address("s", ["a", "q"]), Address("u", ["a"])):
+                net = Net(system, goal, "s", EIGHT, EIGHT)
+                rows = []
+                while len(rows) <= 200:
+                    lengthen(net, rows)
+                for many in (0, 1, 2, 3, 4, 7, 60, 200):
+                    count = 0 if net.start is None else count_behind(rows, many, *net.start)
+                    self.assertEqual(source_count(system, goal, "s", EIGHT, many), count)
+                    found += count > 0
+        self.assertGreater(found, 100)
+
+    def test_goals_with_words_that_are_not_among_them(self):
+        for text, words, many, right in (("s:/other", EIGHT, 3, 0), ("s:/other", ["other"], 3, 1), ("s:/a", ["x"], 1, 0),
+                                         ("s:/a", ["a", "x"], 200, 2 ** 199), ("s:/a/b", EIGHT, 2, 0)):
+            self.assertEqual(source_count(FIRST, address(text), "s", words, many), right)
+        for many, right in ((0, 0), (1, 0), (2, 0), (3, 8), (4, 0)):
+            self.assertEqual(source_count(book("s /1/.. to t /.."), address("t:/x/y"), "s", EIGHT, many), right)
+            self.assertEqual(source_count(book("s /1/.. to t /.."), address("t:/x/other"), "s", EIGHT, many), 0)
+
+    def test_groups(self):
+        self.assertEqual(tally([]), ())
+        self.assertEqual(tally([(1, 2), (0, 3), (1, 2)]), (((0, 3), 1), ((1, 2), 2)))
+        net = Net(FIRST, address("s:/a"), "s", EIGHT, ())
+        groups, tallies = grouped(net)
+        self.assertEqual(sorted(set(groups.values())), list(range(len(tallies))))
+        for system in MIXED:
+            net = Net(system, address("s:/a"), "s", EIGHT, ())
+            groups, tallies = grouped(net)
+            for at, group in groups.items():
+                moves = [(left, -1 if target is None else groups[target]) for _, left, target in net.moves[at]
+                         if target is None or target in groups]
+                self.assertEqual(tally(moves), tallies[group])
 
 
 class EndlessTest(unittest.TestCase):

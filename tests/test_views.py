@@ -2,8 +2,9 @@
 
 import unittest
 
-from sentonward.views import NEVER, Joint, Search, spare_word, word_at
-from tests.drawn import DROP, book
+from sentonward.views import NEVER, Joint, Search, behind, fed, spare_word, team_of, word_at
+from tests.drawn import DROP, book, drawn_book
+from tests.test_ends import TURNING
 
 
 class ViewsTest(unittest.TestCase):
@@ -49,6 +50,35 @@ class ViewsTest(unittest.TestCase):
         self.assertEqual(search.route(0), ("s", []))
         self.assertEqual([search.route(at) for at in (1, 2, 3)], [("s", [1]), ("s", [1, 1]), ("s", [1, 2])])
         self.assertEqual([search.address_of(at).text() for at in (2, 3)], ["s:/a/a", "s:/a/b"])
+
+    def test_places(self):
+        search = Search(Joint(DROP), ["s"])
+        search.widen(0)
+        search.widen(1)
+        for hand, at in (((), 0), ((1,), 1), (("x",), 1), ((7,), 1), ((1, 1), 2), (("x", "x"), 2), (("b", "a"), 3), ((2, 1), 3)):
+            views = (("on", 0, "s", hand),)
+            self.assertEqual((search.place_of(views), search.found(views, 0, 1)), (at, at))
+        self.assertEqual(len(search.nodes), 4)
+        self.assertEqual(search.found((("on", 0, "t", ("y",)),), 0, 1), 4)
+        self.assertEqual(search.nodes[4], (("on", 0, "t", (1,)),))
+
+    def test_one_sign_at_a_time(self):
+        found = 0
+        for one in [DROP, TURNING, *[drawn_book(f"behind {seed}", 2, 2, 5) for seed in range(40)]]:
+            team, joint = team_of(one), Joint(one)
+            search = Search(joint, joint.openings)
+            at = 0
+            while at < len(search.nodes):
+                view = search.nodes[at][0]
+                if view[0] == "on":
+                    search.widen(at)
+                    for sign in [*joint.next_signs((view,)), None]:
+                        told = fed(team, view, () if sign is None else (sign,), sign is None)
+                        self.assertEqual(behind(team, view, sign, True), told)
+                        self.assertEqual(behind(team, view, sign, False), told)
+                        found += told[0] == NEVER
+                at += 1
+        self.assertGreater(found, 20)
 
 
 if __name__ == "__main__":
